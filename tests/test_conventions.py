@@ -1,0 +1,80 @@
+"""Tests of what holds for all functions: what is passed stays, what is told is new, names of parameters."""
+
+import copy
+import importlib
+import inspect
+
+from tests import samples
+from tests.checking import Checking
+from websolids.drawing import blocks, drawn
+from websolids.maps import map_of_rings, rings_of
+from websolids.threeways import are_separate, is_three_ways, separate_ways, three_ways
+from websolids.ways import shortest_way
+from websolids.webs import made_web, neighbours, parts_without, renamed
+
+PARAMETERS = {
+    "ratios": "is_ratio(value) ratio(number,under) ratio_text(ratio) parse_ratio(text)",
+    "space": "is_point(value) is_flat_point(value) is_plane(value) plane_through(one,other,third) turned_plane(plane) "
+             "side(plane,point) turn(one,other,third) foot(plane,point) meeting(plane,other,third) "
+             "between(one,other,part)",
+    "webs": "is_web(value) made_web(many,ties) neighbours(web,corner) degree(web,corner) are_tied(web,one,other) "
+            "with_tie(web,one,other) without_tie(web,one,other) is_joined(web) parts_without(web,corners) "
+            "renamed(web,names)",
+    "ways": "is_way(web,value) is_ring(web,value) is_plain_ring(web,value) shortest_way(web,one,other,barred) "
+            "plain_ring(web,ring) has_chord(web,ring)",
+    "webtexts": "web_text(web) parse_web(text)",
+    "partings": "parting(web) is_parting(web,value) least_cut(web) is_three_joined(web)",
+    "threeways": "most_separate(web,one,other) separate_ways(web,one,other) are_separate(web,one,other,value) "
+                 "cut_between(web,one,other) is_cut(web,one,other,value) three_ways(web,one,other) "
+                 "is_three_ways(web,one,other,value)",
+    "maps": "is_map(value) rings_of(chart) ring_left_of(chart,one,other) mirror(chart) map_of_rings(web,rings)",
+    "drawing": "blocks(web) drawn(web)",
+    "barred": "is_barred(web,value) barred_part(web) can_be_drawn(web)",
+}
+FOUR = samples.full_web(4)
+HUNG = samples.hung([samples.full_web(4), samples.tree(4, 1), samples.ring_web(5)], 2)
+
+
+class ConventionsTest(Checking):
+
+    def test_parameters(self):
+        for stem, rows in PARAMETERS.items():
+            module = importlib.import_module("websolids." + stem)
+            for row in rows.split():
+                name, told = row[:-1].split("(")
+                self.assertTrue(inspect.isfunction(getattr(module, name)), name)
+                self.assertEqual(list(inspect.signature(getattr(module, name)).parameters), told.split(","), name)
+
+    def test_lists_that_are_passed_stay(self):
+        rings = rings_of(drawn(HUNG))
+        calls = [(made_web, [4, [(2, 1), (0, 1), (1, 2)]]), (parts_without, [HUNG, [3, 1]]),
+                 (renamed, [FOUR, [3, 1, 0, 2]]), (shortest_way, [HUNG, 0, 5, [7, 2]]), (map_of_rings, [HUNG, rings]),
+                 (are_separate, [FOUR, 0, 1, [(0, 2, 1), (0, 1)]]), (map_of_rings, [FOUR, [(0, 1), (1, 2)]]),
+                 (is_three_ways, [FOUR, 0, 1, [(0, 2, 1), (0, 1)]]), (map_of_rings, [HUNG, rings[::-1]])]
+        for call, args in calls:
+            kept = copy.deepcopy(args)
+            first = call(*args)
+            self.same(args, kept)
+            self.same(call(*args), first)
+            self.same(args, kept)
+
+    def test_a_tuple_stands_for_a_list(self):
+        rings = rings_of(drawn(HUNG))
+        for call, args, row in [(made_web, [4], [(2, 1), (0, 1)]), (parts_without, [HUNG], [3, 1]),
+                                (renamed, [FOUR], [3, 1, 0, 2]), (shortest_way, [HUNG, 0, 5], [7]),
+                                (map_of_rings, [HUNG], rings), (are_separate, [FOUR, 0, 1], [(0, 1), (0, 3, 1)])]:
+            self.same(call(*args, tuple(row)), call(*args, row))
+
+    def test_lists_that_are_told_are_new(self):
+        for call, args in [(neighbours, (HUNG, 0)), (parts_without, (HUNG, [0])), (rings_of, (drawn(HUNG),)),
+                           (blocks, (HUNG,)), (separate_ways, (HUNG, 0, 5)), (three_ways, (FOUR, 0, 3))]:
+            self.new_list(call, *args)
+
+    def test_what_is_told_has_no_list_that_was_passed(self):
+        ties, names = [(0, 1), (1, 2)], [2, 0, 1]
+        web = made_web(3, ties)
+        other = renamed(web, names)
+        ties.append((0, 2))
+        names.reverse()
+        self.same(web, ("web", 3, ((0, 1), (1, 2))))
+        self.same(other, ("web", 3, ((0, 1), (0, 2))))

@@ -1,0 +1,107 @@
+"""The examples of the document's interface, as they stand there, file by file."""
+
+import doctest
+
+from tests.checking import Checking
+
+RATIOS = r"""
+>>> from websolids.ratios import is_ratio, parse_ratio, ratio, ratio_text
+>>> [ratio(6, -4), ratio(0, -5), ratio_text((-3, 2)), ratio_text((4, 1)), parse_ratio("-0.250"), parse_ratio("006/4")]
+[(-3, 2), (0, 1), '-3/2', '4', (-1, 4), (3, 2)]
+>>> [is_ratio((1, 2)), is_ratio((2, 4)), is_ratio((True, 2)), is_ratio([1, 2]), is_ratio((0, 1)), is_ratio((1, -2))]
+[True, False, False, False, True, False]
+"""
+
+SPACE = r"""
+>>> from websolids.space import between, foot, is_plane, is_point, meeting, plane_through, side, turn, turned_plane
+>>> o, x, y, z = ((0, 1), (0, 1), (0, 1)), ((1, 1), (0, 1), (0, 1)), ((0, 1), (1, 1), (0, 1)), ((0, 1), (0, 1), (1, 1))
+>>> [plane_through(o, x, y), plane_through(x, y, z), side((1, 1, 1, 1), o), side((1, 1, 1, 1), x), turned_plane((0, 0, 1, 0)), foot((1, 1, 1, 1), o), between(o, x, (1, 2))[0], turn(((0, 1), (0, 1)), ((1, 1), (0, 1)), ((1, 1), (1, 1)))]
+[(0, 0, 1, 0), (1, 1, 1, 1), -1, 0, (0, 0, -1, 0), ((1, 3), (1, 3), (1, 3)), (1, 2), 1]
+>>> [meeting((1, 0, 0, 2), (0, 1, 0, 3), (0, 0, 2, 1)), meeting((1, 0, 0, 2), (1, 0, 0, 3), (0, 0, 1, 0)), is_point(o[:2]), is_plane((2, 0, 0, 4)), is_plane((0, 0, 0, 1)), is_plane((2, 0, 0, 1))]
+[((2, 1), (3, 1), (1, 2)), None, False, False, False, True]
+"""
+
+WEBS = r"""
+>>> from websolids.webs import are_tied, degree, is_joined, is_web, made_web, neighbours, parts_without, renamed, with_tie, without_tie
+>>> row = made_web(4, [(2, 1), (0, 1), (1, 2), (2, 3)])
+>>> [row, is_web(("web", 2, ((1, 0),))), neighbours(row, 2), degree(row, 0), are_tied(row, 0, 3), is_joined(row), is_joined(without_tie(row, 1, 2))]
+[('web', 4, ((0, 1), (1, 2), (2, 3))), False, [1, 3], 1, False, True, False]
+>>> [parts_without(row, [1]), parts_without(row, [0, 1, 2, 3]), renamed(row, [3, 0, 1, 2])[2], with_tie(row, 3, 0)[2]]
+[[(0,), (2, 3)], [], ((0, 1), (0, 3), (1, 2)), ((0, 1), (0, 3), (1, 2), (2, 3))]
+"""
+
+WAYS = r"""
+>>> from websolids.ways import has_chord, is_plain_ring, is_ring, is_way, plain_ring, shortest_way
+>>> square = made_web(4, [(0, 1), (1, 2), (2, 3), (0, 3)])
+>>> [is_way(square, (1, 0, 3)), is_way(square, (1, 3)), is_ring(square, (0, 3, 2, 1)), is_plain_ring(square, (0, 3, 2, 1)), is_ring(square, (1, 2, 3, 0)), plain_ring(square, (2, 1, 0, 3))]
+[True, False, True, False, False, (0, 1, 2, 3)]
+>>> [shortest_way(square, 1, 3, []), shortest_way(square, 1, 3, [0]), shortest_way(square, 1, 3, [3]), shortest_way(square, 2, 2, []), has_chord(square, (0, 1, 2, 3)), has_chord(with_tie(square, 0, 2), (0, 1, 2, 3))]
+[(1, 0, 3), (1, 2, 3), None, (2,), False, True]
+"""
+
+WEBTEXTS = r"""
+>>> from websolids.webtexts import parse_web, web_text
+>>> [web_text(row), web_text(("web", 3, ())), parse_web(" 3 :  1-0 2-1 "), parse_web("1:")]
+['4: 0-1 1-2 2-3', '3:', ('web', 3, ((0, 1), (1, 2))), ('web', 1, ())]
+"""
+
+PARTINGS = r"""
+>>> from websolids.partings import is_parting, is_three_joined, least_cut, parting
+>>> square = ("web", 4, ((0, 1), (0, 2), (0, 3), (1, 2), (2, 3)))
+>>> full = ("web", 4, ((0, 1), (0, 2), (0, 3), (1, 2), (1, 3), (2, 3)))
+>>> [is_parting(square, ("parts", (0, 2), (1,))), is_parting(square, ("parts", (0,), (1,))), is_parting(square, ("parts", (0, 2), (1, 3))), is_parting(square, parting(square)), parting(full), is_three_joined(full)]
+[True, False, False, True, None, True]
+>>> [least_cut(square), least_cut(full), least_cut(("web", 3, ((0, 1),))), is_three_joined(("web", 3, ((0, 1), (0, 2), (1, 2)))), is_parting(("web", 3, ((0, 1),)), ("parts", (), (0, 1)))]
+[2, None, 0, False, True]
+"""
+
+THREEWAYS = r"""
+>>> from websolids.threeways import are_separate, cut_between, is_cut, is_three_ways, most_separate, separate_ways, three_ways
+>>> [most_separate(square, 1, 3), most_separate(square, 0, 2), most_separate(full, 0, 1), cut_between(square, 1, 3), is_cut(square, 1, 3, (0,)), is_cut(square, 1, 3, (0, 2))]
+[2, 3, 3, (0, 2), False, True]
+>>> [is_three_ways(full, 0, 1, [(0, 1), (0, 2, 1), (0, 3, 1)]), is_three_ways(full, 0, 1, [(0, 1), (0, 1), (0, 3, 1)]), are_separate(square, 1, 3, [(1, 0, 3)]), are_separate(square, 1, 3, separate_ways(square, 1, 3)), is_three_ways(full, 2, 3, three_ways(full, 2, 3)), is_three_ways(full, 0, 1, [(0, 1), (0, 2, 3, 1), (0, 3, 1)])]
+[True, False, True, True, True, False]
+"""
+
+MAPS = r"""
+>>> from websolids.maps import is_map, map_of_rings, mirror, ring_left_of, rings_of
+>>> four = ("web", 4, ((0, 1), (0, 2), (0, 3), (1, 2), (1, 3), (2, 3)))
+>>> tent = ("map", four, ((1, 2, 3), (0, 3, 2), (0, 1, 3), (0, 2, 1)))
+>>> [rings_of(tent), ring_left_of(tent, 1, 3), mirror(tent)[2], map_of_rings(four, rings_of(tent)[::-1]) == tent]
+[[(0, 1, 2), (0, 2, 3), (0, 3, 1), (1, 3, 2)], (1, 3, 2), ((1, 3, 2), (0, 2, 3), (0, 3, 1), (0, 1, 2)), True]
+>>> [is_map(tent), is_map(("map", four, ((1, 2, 3), (0, 2, 3), (0, 1, 3), (0, 2, 1)))), rings_of(("map", ("web", 3, ((0, 1), (1, 2))), ((1,), (0, 2), (1,)))), map_of_rings(four, [(0, 1, 2)])]
+[True, False, [(0, 1, 2, 1)], None]
+"""
+
+DRAWING = r"""
+>>> from websolids.drawing import blocks, drawn
+>>> five = ("web", 5, ((0, 1), (0, 2), (0, 3), (0, 4), (1, 2), (1, 3), (1, 4), (2, 3), (2, 4), (3, 4)))
+>>> [is_map(drawn(four)), drawn(five), is_map(drawn(("web", 5, five[2][:9]))), blocks(("web", 4, ((0, 1), (1, 2), (1, 3), (2, 3))))]
+[True, None, True, [((0, 1),), ((1, 2), (1, 3), (2, 3))]]
+"""
+
+BARRED = r"""
+>>> from websolids.barred import barred_part, can_be_drawn, is_barred
+>>> five = ("web", 5, ((0, 1), (0, 2), (0, 3), (0, 4), (1, 2), (1, 3), (1, 4), (2, 3), (2, 4), (3, 4)))
+>>> less = ("web", 6, five[2][:9] + ((3, 5),))
+>>> [can_be_drawn(five), can_be_drawn(less), barred_part(less), barred_part(five) == ("barred", "five", (0, 1, 2, 3, 4), five[2]), is_barred(five, ("barred", "five", (0, 1, 2, 3, 4), five[2][::-1])), can_be_drawn(("web", 3, ()))]
+[False, True, None, True, False, True]
+>>> wells = ("web", 7, ((0, 3), (0, 4), (0, 5), (1, 3), (1, 4), (1, 5), (2, 3), (2, 4), (2, 6), (5, 6)))
+>>> [barred_part(wells) == ("barred", "wells", (0, 1, 2, 3, 4, 5), wells[2][:8] + ((2, 6, 5),)), is_barred(wells, ("barred", "wells", (3, 4, 5, 0, 1, 2), ()))]
+[True, False]
+"""
+
+
+class ExamplesTest(Checking):
+
+    def test_examples(self):
+        # Names stand for what they were in the last example that gave them.
+        names = {}
+        rows = [RATIOS, SPACE, WEBS, WAYS, WEBTEXTS, PARTINGS, THREEWAYS, MAPS, DRAWING, BARRED]
+        for at, text in enumerate(rows):
+            examples = doctest.DocTestParser().get_doctest(text, names, f"examples {at}", None, 0)
+            runner, told = doctest.DocTestRunner(verbose=False), []
+            runner.run(examples, out=told.append, clear_globs=False)
+            self.assertEqual((runner.failures, "".join(told)), (0, ""))
+            self.assertGreater(runner.tries, 1)
+            names = examples.globs
