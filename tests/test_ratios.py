@@ -8,6 +8,7 @@ from tests.checking import Checking
 from tests.samples import junk
 from websolids.errors import BadText, InvalidInteger, InvalidRatio, InvalidText, NoQuotient
 from websolids.ratios import is_ratio, parse_ratio, ratio, ratio_text
+from websolids.space import between
 
 MOST = 10 ** 40 - 1
 NO_RATIOS = [
@@ -100,6 +101,15 @@ class RatioTextTest(Checking):
             want = str(value[0]) if value[1] == 1 else f"{value[0]}/{value[1]}"
             self.same(ratio_text(value), want)
             self.same(parse_ratio(want), value)
+
+    def test_text_of_long_numbers(self):
+        # Points between points, again and again, come to numbers of thousands of digits.
+        one, other = ((1, 7), (-3, 10 ** 39 + 1), (10 ** 40, 3)), ((2, 11), (0, 1), (-5, 9))
+        for _ in range(40):
+            other = between(one, other, (1 - 10 ** 40, 10 ** 39))
+            for number, under in other:
+                self.same(ratio_text((number, under)), str(number) if under == 1 else f"{number}/{under}")
+        self.assertGreater(max([len(ratio_text(part)) for part in other]), 3000)
 
     def test_text_refuses(self):
         for value in NO_RATIOS + [value for value in junk() if not looks_like_ratio(value)]:

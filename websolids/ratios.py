@@ -74,7 +74,7 @@ def read_tail(text, start):
     end = digits_end(text, start)
     if end == start or end < len(text):
         raise BadText(end)
-    return text[start:end]
+    return text[start:]
 
 
 def digits_end(text, start):

