@@ -125,6 +125,19 @@ class IsBarredTest(Checking):
         for heads in itertools.product(range(3), repeat=5):
             self.no(is_barred(web, ("barred", "five", heads, tuple(itertools.combinations(heads, 2)))))
 
+    def test_heads_that_are_alike(self):
+        # A way of one corner leads from a head to itself: so it is the heads alone that tell that this is none.
+        web = samples.full_web(6)
+        for kind, many in [("five", 5), ("wells", 6)]:
+            for heads in itertools.product(range(5), repeat=many):
+                if kind == "five":
+                    ends = list(itertools.combinations(heads, 2))
+                else:
+                    ends = list(itertools.product(heads[:3], heads[3:]))
+                ways = tuple([(one,) if one == other else (one, other) for one, other in ends])
+                if len(set(heads)) < many and list(heads[:3]) == sorted(heads[:3]):
+                    self.no(is_barred(web, ("barred", kind, heads, ways)), heads)
+
     def test_ways_exchanged_left_out_doubled_turned(self):
         for web, part in [(FIVE, FIVE_PART), (WELLS, WELLS_PART), (BENT, BENT_PART), (LONG, LONG_PART)]:
             word, kind, heads, ways = part
