@@ -118,7 +118,8 @@ def followers(rings):
     for ring in rings:
         for at, corner in enumerate(ring):
             before, behind = ring[at - 1], ring[(at + 1) % len(ring)]
-            follow.setdefault(corner, {})[behind] = before
+            row = follow.setdefault(corner, {})
+            row[behind] = before
     return follow
 
 
