@@ -41,13 +41,12 @@ def wrong_counts(text):
 
 
 def read(text):
-    """The web that is read, or the wrong place; None where both the form and a COUNT are wrong."""
+    """The web that is read, or the wrong place."""
     place = wrong_by_form(text)
+    # Behind a 0 no digit can stand: so what is ahead of a character that can't stand ends with a whole COUNT.
     counts = wrong_counts(text if place is None else text[:place])
-    if place is not None:
-        return None if counts else place
-    if counts:
-        return counts[0]
+    if counts or place is not None:
+        return min(counts + [len(text) if place is None else place])
     if not FORM.fullmatch(text):
         return len(text)
     told = [int(digits) for digits in re.findall("[0-9]+", text)]
@@ -86,7 +85,7 @@ class ParseWebTest(Checking):
         want = read(text)
         if isinstance(want, tuple):
             self.same(parse_web(text), want)
-        elif want is not None:
+        else:
             self.refused(BadText, {"position": want}, parse_web, text)
 
     def test_what_is_read(self):
@@ -118,6 +117,16 @@ class ParseWebTest(Checking):
         self.wrong({"3: 0-1 0-1": 9, "3: 0-1 1-0": 9, "3: 0-1 1-2   0-1 ": 15, "20: 10-19 2-1 19-10": 17,
                     "12: 0-1 0-1": 10})
 
+    def test_a_count_that_is_wrong_and_a_digit_that_cant_stand_behind_it(self):
+        self.wrong({"01:": 0, "00:": 0, "  02: 0-1": 2, "012": 0, "2: 0-01": 5, "4:   0-03 1-2": 7, "3: 0-1 1-01": 9,
+                    "3: 0-1 1-00": 9})
+
+    def test_a_count_0_that_is_right_and_a_digit_behind_it(self):
+        self.wrong({"2: 00-1": 4, "2: 1-00": 6, "3: 0-1 2-03": 10, "3: 0-1 02-1": 8, "12: 011-1": 5, "10:00-1": 3})
+
+    def test_a_wrong_count_ahead_of_a_wrong_character(self):
+        self.wrong({"99: x": 0, "3: 5x": 3, "3: 0-5x": 5, "3: 0-1 1-0x": 9, "21 x": 0, "3: 1-1-": 5, "0x": 0})
+
     def test_the_61st(self):
         ties = [f"{a}-{b}" for a, b in samples.pairs_of(20)[:62]]
         sixty = "20: " + " ".join(ties[:60])
@@ -126,7 +135,8 @@ class ParseWebTest(Checking):
         start = len(sixty) + 1 + ties[60].index("-") + 1
         self.wrong({sixty + " " + ties[60]: start, sixty + " " + ties[60] + " " + ties[61]: start,
                     sixty + " " + ties[0]: len(sixty) + 3, sixty + " " + ties[60] + " ": start,
-                    sixty + " 18-": len(sixty) + 4, sixty + " 20-1": len(sixty) + 1, sixty + " 1": len(sixty) + 2})
+                    sixty + " 18-": len(sixty) + 4, sixty + " 18-01": len(sixty) + 4, sixty + " 018-1": len(sixty) + 2,
+                    sixty + " 20-1": len(sixty) + 1, sixty + " 1": len(sixty) + 2})
 
     def test_texts_that_end_too_soon(self):
         self.wrong({"": 0, "   ": 3, "3": 1, "3 ": 2, "20": 2, "3: 0": 4, "3: 0-": 5, "3: 0-1 2": 8, "3: 0-1 2-": 9,

@@ -51,13 +51,14 @@ def read_tie(text, start, many, ties):
 
 def read_count(text, start):
     """The COUNT that the text tells at a place, and the place behind its digits."""
+    if text[start:start + 1] == "0":
+        # Behind a 0 no digit can stand: so the COUNT is 0, and is looked at ahead of a digit that follows.
+        return 0, start + 1
     end = start
     while end < len(text) and text[end] in "0123456789":
         end += 1
     if end == start:
         raise BadText(start)
-    if text[start] == "0" and end > start + 1:
-        raise BadText(start + 1)
     # `int` refuses thousands of digits; any three tell more than there may be corners.
     return int(text[start:end][:3]), end
 
