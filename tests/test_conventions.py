@@ -4,10 +4,19 @@ import copy
 import importlib
 import inspect
 
-from tests import samples
+from tests import samples, solidsamples
 from tests.checking import Checking
+from websolids.codes import is_code, own_namings, renamed_chart
 from websolids.drawing import blocks, drawn
+from websolids.equations import is_solution, solved_equations
+from websolids.faces import faces, faces_at, faces_by_rings
+from websolids.hulls import hull, is_hull, needed
+from websolids.lifting import lifted, pulls, slopes
 from websolids.maps import map_of_rings, rings_of
+from websolids.middles import is_placed, placed, rings_around
+from websolids.polar import polar_names
+from websolids.refusals import reason
+from websolids.solids import faces_of, is_solid, planes
 from websolids.threeways import are_separate, is_three_ways, separate_ways, three_ways
 from websolids.ways import shortest_way
 from websolids.webs import made_web, neighbours, parts_without, renamed
@@ -30,8 +39,26 @@ PARAMETERS = {
     "maps": "is_map(value) rings_of(chart) ring_left_of(chart,one,other) mirror(chart) map_of_rings(web,rings)",
     "drawing": "blocks(web) drawn(web)",
     "barred": "is_barred(web,value) barred_part(web) can_be_drawn(web)",
+    "faces": "is_face(web,value) faces(web) faces_at(web,one,other) the_map(web) faces_by_rings(web)",
+    "turned": "turned(chart) back_names(chart)",
+    "codes": "writing(chart,tie,way) code(chart) is_code(value) chart_of_code(code) renamed_chart(chart,names) "
+             "is_naming(chart,other,value) is_kept(chart,other,value) are_alike(chart,other) naming(chart,other) "
+             "own_namings(chart)",
+    "equations": "solved_equations(rows,right) is_solution(rows,right,value)",
+    "middles": "placed(chart,ring) is_at_middles(chart,ring,value) is_placed(chart,ring,value) "
+               "ring_area(chart,ring,places,face) rings_around(chart,ring,places,point)",
+    "lifting": "slopes(chart,ring) lifted(chart,ring) height_at(chart,ring,point) pulls(chart,ring) "
+               "lifted_solid(chart,ring)",
+    "solids": "is_solid(value) planes(solid) web_of(solid) map_of(solid) inside(solid) where(solid,point) "
+              "faces_of(solid,point)",
+    "hulls": "hull(points) needed(points) is_hull(points,value)",
+    "polar": "faces_round(solid,corner) polar_names(solid) polar(solid,point)",
+    "wholes": "scale(solid) enlarged(solid) greatest_size(solid) shrunk(solid,room) is_shrunk(solid,value)",
+    "refusals": "is_refusal(web,value) reason(web,value) refusal(web)",
 }
 FOUR = samples.full_web(4)
+CHART, SOLID = drawn(FOUR), solidsamples.solids()[0]
+ROWS, RIGHT = [[(2, 1), (1, 1)], [(1, 1), (3, 1)]], [(3, 1), (5, 1)]
 HUNG = samples.hung([samples.full_web(4), samples.tree(4, 1), samples.ring_web(5)], 2)
 
 
@@ -50,7 +77,11 @@ class ConventionsTest(Checking):
         calls = [(made_web, [4, [(2, 1), (0, 1), (1, 2)]]), (parts_without, [HUNG, [3, 1]]),
                  (renamed, [FOUR, [3, 1, 0, 2]]), (shortest_way, [HUNG, 0, 5, [7, 2]]), (map_of_rings, [HUNG, rings]),
                  (are_separate, [FOUR, 0, 1, [(0, 2, 1), (0, 1)]]), (map_of_rings, [FOUR, [(0, 1), (1, 2)]]),
-                 (is_three_ways, [FOUR, 0, 1, [(0, 2, 1), (0, 1)]]), (map_of_rings, [HUNG, rings[::-1]])]
+                 (is_three_ways, [FOUR, 0, 1, [(0, 2, 1), (0, 1)]]), (map_of_rings, [HUNG, rings[::-1]]),
+                 (renamed_chart, [CHART, [3, 1, 0, 2]]), (solved_equations, [ROWS, RIGHT]),
+                 (is_solution, [ROWS, RIGHT, ((4, 5), (7, 5))]), (hull, [list(SOLID[1])]), (needed, [list(SOLID[1])[::-1]]),
+                 (is_hull, [list(SOLID[1]), SOLID]), (is_code, [[[1], [0]]]), (is_solid, [list(SOLID)]),
+                 (reason, [FOUR, ["parts", [0], [1]]]), (is_placed, [CHART, (0, 1, 2), [[(0, 1), (0, 1)]]])]
         for call, args in calls:
             kept = copy.deepcopy(args)
             first = call(*args)
@@ -62,12 +93,18 @@ class ConventionsTest(Checking):
         rings = rings_of(drawn(HUNG))
         for call, args, row in [(made_web, [4], [(2, 1), (0, 1)]), (parts_without, [HUNG], [3, 1]),
                                 (renamed, [FOUR], [3, 1, 0, 2]), (shortest_way, [HUNG, 0, 5], [7]),
-                                (map_of_rings, [HUNG], rings), (are_separate, [FOUR, 0, 1], [(0, 1), (0, 3, 1)])]:
+                                (map_of_rings, [HUNG], rings), (are_separate, [FOUR, 0, 1], [(0, 1), (0, 3, 1)]),
+                                (renamed_chart, [CHART], [3, 1, 0, 2]), (solved_equations, [ROWS], RIGHT),
+                                (hull, [], list(SOLID[1])), (needed, [], list(SOLID[1]))]:
             self.same(call(*args, tuple(row)), call(*args, row))
 
     def test_lists_that_are_told_are_new(self):
         for call, args in [(neighbours, (HUNG, 0)), (parts_without, (HUNG, [0])), (rings_of, (drawn(HUNG),)),
-                           (blocks, (HUNG,)), (separate_ways, (HUNG, 0, 5)), (three_ways, (FOUR, 0, 3))]:
+                           (blocks, (HUNG,)), (separate_ways, (HUNG, 0, 5)), (three_ways, (FOUR, 0, 3)), (faces, (FOUR,)),
+                           (faces_at, (FOUR, 0, 1)), (faces_by_rings, (FOUR,)), (own_namings, (CHART,)),
+                           (rings_around, (CHART, (0, 1, 2), placed(CHART, (0, 1, 2)), ((1, 3), (1, 3)))),
+                           (slopes, (CHART, (0, 1, 2))), (lifted, (CHART, (0, 1, 2))), (pulls, (CHART, (0, 1, 2))),
+                           (planes, (SOLID,)), (faces_of, (SOLID, SOLID[1][0])), (needed, (SOLID[1],)), (polar_names, (SOLID,))]:
             self.new_list(call, *args)
 
     def test_what_is_told_has_no_list_that_was_passed(self):

@@ -91,13 +91,112 @@ BARRED = r"""
 [True, False]
 """
 
+FACES = r"""
+>>> from websolids.faces import faces, faces_at, faces_by_rings, is_face, the_map
+>>> four = ("web", 4, ((0, 1), (0, 2), (0, 3), (1, 2), (1, 3), (2, 3)))
+>>> square = ("web", 4, ((0, 1), (0, 3), (1, 2), (2, 3)))
+>>> [is_face(four, (0, 1, 2)), is_face(four, (0, 2, 1)), is_face(four, (0, 1, 2, 3)), is_face(square, (0, 1, 2, 3)), is_face(four, [0, 1, 2])]
+[True, False, False, True, False]
+>>> [faces(four), faces_at(four, 3, 1), faces_by_rings(four) == faces(four), faces_by_rings(square)]
+[[(0, 1, 2), (0, 1, 3), (0, 2, 3), (1, 2, 3)], [(0, 1, 3), (1, 2, 3)], True, [(0, 1, 2, 3)]]
+>>> the_map(four)[2]
+((1, 2, 3), (0, 3, 2), (0, 1, 3), (0, 2, 1))
+"""
+
+TURNED = r"""
+>>> from websolids.turned import back_names, turned
+>>> roof = ("map", ("web", 4, ((0, 1), (0, 2), (0, 3), (1, 2), (1, 3), (2, 3))), ((1, 3, 2), (0, 2, 3), (0, 3, 1), (0, 1, 2)))
+>>> [turned(roof) == roof, back_names(roof)]
+[True, (1, 0, 3, 2)]
+"""
+
+CODES = r"""
+>>> from websolids.codes import are_alike, chart_of_code, code, is_code, is_kept, is_naming, naming, own_namings, renamed_chart, writing
+>>> bent = ("map", ("web", 4, ((0, 1), (1, 2), (1, 3))), ((1,), (0, 3, 2), (1,), (1,)))
+>>> [writing(roof, (0, 1), "kept"), code(roof) == writing(roof, (3, 2), "mirrored"), is_code(writing(roof, (0, 1), "kept")), len(own_namings(roof)), naming(roof, roof)]
+[((1, 2, 3), (0, 3, 2), (0, 1, 3), (0, 2, 1)), True, True, 24, (0, 1, 2, 3)]
+>>> [writing(bent, (0, 1), "kept"), code(bent), chart_of_code(code(bent)) == renamed_chart(bent, (1, 0, 2, 3)), is_naming(bent, bent, (0, 1, 3, 2)), is_kept(bent, bent, (0, 1, 3, 2)), are_alike(roof, bent)]
+[((1,), (0, 2, 3), (1,), (1,)), ((1,), (0, 2, 3), (1,), (1,)), False, True, False, False]
+"""
+
+EQUATIONS = r"""
+>>> from websolids.equations import is_solution, solved_equations
+>>> rows, right = [[(2, 1), (1, 1)], [(1, 1), (3, 1)]], [(3, 1), (5, 1)]
+>>> [solved_equations(rows, right), solved_equations([[(1, 2), (1, 1)], [(1, 1), (2, 1)]], right), is_solution(rows, right, ((4, 5), (7, 5))), is_solution(rows, right, [(4, 5), (7, 5)])]
+[((4, 5), (7, 5)), None, True, False]
+"""
+
+MIDDLES = r"""
+>>> from websolids.middles import is_at_middles, is_placed, placed, ring_area, rings_around
+>>> four = ("map", ("web", 4, ((0, 1), (0, 2), (0, 3), (1, 2), (1, 3), (2, 3))), ((1, 2, 3), (0, 3, 2), (0, 1, 3), (0, 2, 1)))
+>>> at = (((0, 1), (0, 1)), ((0, 1), (1, 1)), ((1, 1), (0, 1)), ((1, 3), (1, 3)))
+>>> [placed(four, (0, 1, 2)) == at, is_at_middles(four, (0, 1, 2), at[:3] + (((1, 2), (1, 4)),)), is_placed(four, (0, 1, 2), at[:3] + (((1, 2), (1, 4)),)), is_placed(four, (0, 1, 2), at[:3] + (((1, 2), (1, 2)),))]
+[True, False, True, False]
+>>> [ring_area(four, (0, 1, 2), at, (0, 2, 3)), rings_around(four, (0, 1, 2), at, ((1, 2), (1, 8))), rings_around(four, (0, 1, 2), at, ((1, 6), (1, 6))), rings_around(four, (0, 1, 2), at, ((1, 1), (1, 1)))]
+[(1, 6), [(0, 2, 3)], [(0, 2, 3), (0, 3, 1)], []]
+"""
+
+LIFTING = r"""
+>>> from websolids.lifting import height_at, lifted, lifted_solid, pulls, slopes
+>>> four = ("map", ("web", 4, ((0, 1), (0, 2), (0, 3), (1, 2), (1, 3), (2, 3))), ((1, 2, 3), (0, 3, 2), (0, 1, 3), (0, 2, 1)))
+>>> [slopes(four, (0, 1, 2)), lifted(four, (0, 1, 2)), height_at(four, (0, 1, 2), ((0, 1), (1, 2))), pulls(four, (0, 1, 2))]
+[[((0, 1), (0, 1), (0, 1)), ((-1, 3), (1, 3), (0, 1)), ((1, 3), (2, 3), (-1, 3))], [(0, 1), (1, 3), (0, 1), (0, 1)], (1, 6), [((1, 3), (1, 3)), ((1, 3), (-2, 3)), ((-2, 3), (1, 3))]]
+>>> lifted_solid(four, (0, 1, 2))
+('solid', (((0, 1), (0, 1), (0, 1)), ((0, 1), (1, 1), (1, 3)), ((1, 1), (0, 1), (0, 1)), ((1, 3), (1, 3), (0, 1))), ((0, 1, 3), (0, 2, 1), (0, 3, 2), (1, 2, 3)))
+"""
+
+SOLIDS = r"""
+>>> from websolids.solids import faces_of, inside, is_solid, map_of, planes, web_of, where
+>>> o, e, half = (0, 1), (1, 1), (1, 2)
+>>> tent = ("solid", ((o, o, o), (o, o, e), (o, e, o), (e, o, o)), ((0, 1, 2), (0, 2, 3), (0, 3, 1), (1, 3, 2)))
+>>> [is_solid(tent), is_solid(tent[:2] + (((0, 2, 1),) + tent[2][1:],)), planes(tent), web_of(tent)[2] == ((0, 1), (0, 2), (0, 3), (1, 2), (1, 3), (2, 3))]
+[True, False, [(-1, 0, 0, 0), (0, 0, -1, 0), (0, -1, 0, 0), (1, 1, 1, 1)], True]
+>>> [map_of(tent)[2], inside(tent), where(tent, (half, half, half)), where(tent, (half, o, half)), faces_of(tent, (half, o, half)), faces_of(tent, (o, o, e)), faces_of(tent, inside(tent))]
+[((1, 2, 3), (0, 3, 2), (0, 1, 3), (0, 2, 1)), ((1, 4), (1, 4), (1, 4)), 'out', 'on', [2, 3], [0, 2, 3], []]
+"""
+
+HULLS = r"""
+>>> from websolids.hulls import hull, is_hull, needed
+>>> third = (1, 3)
+>>> [hull([(e, o, o), (third, third, third), (o, o, e), (o, e, o), (o, o, o), (o, o, o)]) == tent, needed([(e, o, o), (o, o, e), (half, o, half), (o, e, o), (o, o, o)]) == list(tent[1]), is_hull(list(tent[1])[::-1], tent), is_hull(list(tent[1]) + [(e, e, e)], tent)]
+[True, True, True, False]
+"""
+
+POLAR = r"""
+>>> from websolids.polar import faces_round, polar, polar_names
+>>> n, one, z, m = (-1, 1), (1, 1), (0, 1), (3, 1)
+>>> four = ("solid", ((n, n, n), (m, n, n), (n, m, n), (n, n, m)), ((0, 1, 3), (0, 2, 1), (0, 3, 2), (1, 2, 3)))
+>>> [faces_round(four, 0), faces_round(four, 3), polar_names(four)]
+[(0, 2, 1), (0, 3, 2), [1, 0, 3, 2]]
+>>> polar(four, (z, z, z)) == ("solid", ((z, n, z), (z, z, n), (n, z, z), (one, one, one)), ((0, 1, 3), (0, 2, 1), (0, 3, 2), (1, 2, 3)))
+True
+"""
+
+WHOLES = r"""
+>>> from websolids.wholes import enlarged, greatest_size, is_shrunk, scale, shrunk
+>>> half = ("solid", tuple([tuple([(one[0], 2) for one in corner]) for corner in four[1]]), four[2])
+>>> [scale(four), scale(half), enlarged(half) == four, greatest_size(half), is_shrunk(half, four), is_shrunk(half, half), is_shrunk(four, shrunk(four, 9))]
+[1, 2, True, (3, 2), True, False, True]
+"""
+
+REFUSALS = r"""
+>>> from websolids.refusals import is_refusal, reason, refusal
+>>> square, two = ("web", 4, ((0, 1), (0, 3), (1, 2), (2, 3))), ("web", 2, ((0, 1),))
+>>> [is_refusal(square, ("parts", (0, 2), (1,))), reason(square, ("parts", (0,), (1,))), reason(square, ("parts", (2, 0), (1,))), reason(square, ["parts"]), reason(square, ("few", 4)), refusal(two), refusal(("web", 4, ((0, 1), (0, 2), (0, 3), (1, 2), (1, 3), (2, 3))))]
+[True, 'open', 'corners', 'form', 'form', ('few', 2), None]
+>>> wells = ("web", 6, ((0, 3), (0, 4), (0, 5), (1, 3), (1, 4), (1, 5), (2, 3), (2, 4), (2, 5)))
+>>> [is_refusal(wells, ("barred", "wells", (0, 1, 2, 3, 4, 5), wells[2])), reason(wells, ("barred", "wells", (0, 1, 2, 3, 4, 5), ((0, 3, 1, 4),) + wells[2][1:])), reason(wells, ("barred", "wells", (0, 1, 3, 2, 4, 5), wells[2]))]
+[True, 'ties', 'ties']
+"""
+
 
 class ExamplesTest(Checking):
 
     def test_examples(self):
         # Names stand for what they were in the last example that gave them.
         names = {}
-        rows = [RATIOS, SPACE, WEBS, WAYS, WEBTEXTS, PARTINGS, THREEWAYS, MAPS, DRAWING, BARRED]
+        rows = [RATIOS, SPACE, WEBS, WAYS, WEBTEXTS, PARTINGS, THREEWAYS, MAPS, DRAWING, BARRED, FACES, TURNED,
+                CODES, EQUATIONS, MIDDLES, LIFTING, SOLIDS, HULLS, POLAR, WHOLES, REFUSALS]
         for at, text in enumerate(rows):
             examples = doctest.DocTestParser().get_doctest(text, names, f"examples {at}", None, 0)
             runner, told = doctest.DocTestRunner(verbose=False), []

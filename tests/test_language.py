@@ -21,6 +21,17 @@ INTERFACE = {
     "maps": "is_map rings_of ring_left_of mirror map_of_rings",
     "drawing": "blocks drawn",
     "barred": "is_barred barred_part can_be_drawn",
+    "faces": "is_face faces faces_at the_map faces_by_rings",
+    "turned": "turned back_names",
+    "codes": "writing code is_code chart_of_code renamed_chart is_naming is_kept are_alike naming own_namings",
+    "equations": "solved_equations is_solution",
+    "middles": "placed is_at_middles is_placed ring_area rings_around",
+    "lifting": "slopes lifted height_at pulls lifted_solid",
+    "solids": "is_solid planes web_of map_of inside where faces_of",
+    "hulls": "hull needed is_hull",
+    "polar": "faces_round polar_names polar",
+    "wholes": "scale enlarged greatest_size shrunk is_shrunk",
+    "refusals": "is_refusal reason refusal",
 }
 WRONG = [
     ("L2", "import math\n"), ("L2", "from os import path\n"), ("L2", "from . import webs\n"),

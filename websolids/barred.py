@@ -2,22 +2,18 @@
 
 from websolids.drawing import blocks_of
 from websolids.fitting import block_rings, rows_of_ties
-from websolids.kinds import has_unlike_counts, is_rising, is_tuple_of, is_word
+from websolids.kinds import has_unlike_counts, is_count_tuple, is_rising, is_tuple_of, is_word
 from websolids.ways import is_way_in
 from websolids.webs import check_web
+
+FIVE = "five"
+WELLS = "wells"
 
 
 def is_barred(web, value):
     """Whether any value is a barred part of the web."""
     check_web(web)
-    if not is_tuple_of(value, 4) or not is_word(value[0], "barred"):
-        return False
-    word, heads, ways = value[1], value[2], value[3]
-    if is_word(word, "five"):
-        return is_tuple_of(heads, 5) and is_rising(heads, web[1]) and are_ways_of(web, heads, five_pairs(heads), ways)
-    if is_word(word, "wells"):
-        return are_houses_and_wells(web, heads) and are_ways_of(web, heads, wells_pairs(heads), ways)
-    return False
+    return is_tuple_of(value, 4) and is_word(value[0], "barred") and wrong_in_barred(web, value) is None
 
 
 def barred_part(web):
@@ -60,10 +56,10 @@ def told_part(ties):
             way = followed_way(rows, head, corner)
             ways[(head, way[-1])] = way
     if len(heads) == 5:
-        return ("barred", "five", tuple(heads), tuple([ways[pair] for pair in five_pairs(heads)]))
+        return ("barred", FIVE, tuple(heads), tuple([ways[pair] for pair in five_pairs(heads)]))
     houses = [head for head in heads if (heads[0], head) not in ways]
     told = tuple(houses + [head for head in heads if head not in houses])
-    return ("barred", "wells", told, tuple([ways[pair] for pair in wells_pairs(told)]))
+    return ("barred", WELLS, told, tuple([ways[pair] for pair in wells_pairs(told)]))
 
 
 def followed_way(rows, head, corner):
@@ -85,18 +81,31 @@ def wells_pairs(heads):
     return [(house, well) for house in heads[:3] for well in heads[3:]]
 
 
-def are_houses_and_wells(web, value):
-    """Whether any value is a tuple of three houses and three wells as they are to be written."""
-    if not is_tuple_of(value, 6) or not has_unlike_counts(value, web[1]):
-        return False
-    return is_rising(value[:3], web[1]) and is_rising(value[3:], web[1]) and value[0] < value[3]
+def wrong_in_barred(web, paper):
+    """What is wrong in a tuple of four parts, the first of them "barred", None if it is right: a word of [115]."""
+    word, heads, ways = paper[1], paper[2], paper[3]
+    if not is_word(word, FIVE) and not is_word(word, WELLS):
+        return "form"
+    if not is_count_tuple(heads) or not isinstance(ways, tuple) or not all(is_count_tuple(way) for way in ways):
+        return "form"
+    if not (are_five_heads(web, heads) if word == FIVE else are_houses_and_wells(web, heads)):
+        return "corners"
+    pairs = five_pairs(heads) if word == FIVE else wells_pairs(heads)
+    if len(ways) != len(pairs) or not all(way and has_unlike_counts(way, web[1]) for way in ways):
+        return "corners"
+    if not all(is_way_in(web, way) and (way[0], way[-1]) == pair for way, pair in zip(ways, pairs)):
+        return "ties"
+    inner = [corner for way in ways for corner in way[1:-1]]
+    return "shared" if len(set(inner)) < len(inner) or any(corner in heads for corner in inner) else None
 
 
-def are_ways_of(web, heads, pairs, value):
-    """Whether any value is a tuple of ways that lead from head to head, one for each pair, and share nothing else."""
-    if not is_tuple_of(value, len(pairs)) or not all(is_way_in(web, way) for way in value):
+def are_five_heads(web, heads):
+    """Whether a tuple of COUNTS is five rising corners."""
+    return len(heads) == 5 and is_rising(heads, web[1])
+
+
+def are_houses_and_wells(web, heads):
+    """Whether a tuple of COUNTS is three houses and three wells as they are to be written."""
+    if len(heads) != 6 or not has_unlike_counts(heads, web[1]):
         return False
-    if [(way[0], way[-1]) for way in value] != pairs:
-        return False
-    inner = [corner for way in value for corner in way[1:-1]]
-    return len(set(inner)) == len(inner) and not any(corner in heads for corner in inner)
+    return is_rising(heads[:3], web[1]) and is_rising(heads[3:], web[1]) and heads[0] < heads[3]

@@ -3,6 +3,7 @@
 from websolids.errors import NotJoined
 from websolids.fitting import block_rings
 from websolids.maps import can_have_map, followers, round_of
+from websolids.ways import from_least
 from websolids.webs import check_web, neighbour_rows
 
 
@@ -73,9 +74,3 @@ def closed_ring(paths, tie):
 def path_ties(path):
     """The ties between neighbours in a path."""
     return [(min(pair), max(pair)) for pair in zip(path, path[1:])]
-
-
-def from_least(row):
-    """A round that is written from any of its corners on, as a tuple from the least one on."""
-    start = row.index(min(row))
-    return tuple(row[start:] + row[:start])

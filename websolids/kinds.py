@@ -1,4 +1,4 @@
-"""What kind a value is: the looks that all other files share."""
+"""What kind a value is, and other small looks that all other files share."""
 
 
 def is_integer(value):
@@ -36,8 +36,19 @@ def has_unlike_counts(row, bound):
     return has_counts_below(row, bound) and len(set(row)) == len(row)
 
 
+def is_count_tuple(value):
+    """Whether any value is a tuple of COUNTS, however great."""
+    return isinstance(value, tuple) and all(is_integer(part) and part >= 0 for part in value)
+
+
 def is_rising(value, bound):
     """Whether any value is a rising tuple of COUNTS less than the bound."""
     if not isinstance(value, tuple) or not has_counts_below(value, bound):
         return False
     return all(lesser < greater for lesser, greater in zip(value, value[1:]))
+
+
+def threes_of(row):
+    """All threes of a list, in its sequence."""
+    many = len(row)
+    return [(row[a], row[b], row[c]) for a in range(many) for b in range(a + 1, many) for c in range(b + 1, many)]

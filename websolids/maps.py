@@ -2,6 +2,7 @@
 
 from websolids.errors import InvalidCorner, InvalidMap, InvalidRings
 from websolids.kinds import has_counts_below, has_unlike_counts, is_integer, is_listed, is_tuple_of, is_word
+from websolids.ways import backwards, ring_steps
 from websolids.webs import check_corner, check_web, is_web, is_whole, neighbour_rows
 
 MOST_PASSED = 120
@@ -37,7 +38,7 @@ def ring_left_of(chart, one, other):
 def mirror(chart):
     """The map with each round the other way about."""
     check_map(chart)
-    return (chart[0], chart[1], tuple([row[:1] + row[:0:-1] for row in chart[2]]))
+    return mirrored_chart(chart)
 
 
 def map_of_rings(web, rings):
@@ -57,6 +58,16 @@ def check_map(value):
     """Raises what is told for a parameter that must be a MAP."""
     if not is_map(value):
         raise InvalidMap(value)
+
+
+def mirrored_chart(chart):
+    """What is known to be a map, mirrored."""
+    return ("map", chart[1], tuple([backwards(row) for row in chart[2]]))
+
+
+def places_of_steps(rings):
+    """For each step of some rings the place of the ring that lies on its left."""
+    return {step: place for place, ring in enumerate(rings) for step in ring_steps(ring)}
 
 
 def can_have_map(web):
@@ -102,8 +113,8 @@ def rings_in(rounds):
         if step not in known:
             ring = ring_from(step, ahead)
             rings.append(least_turning(ring))
-            for corner, other in zip(ring, ring[1:] + ring[:1]):
-                known[(corner, other)] = True
+            for pair in ring_steps(ring):
+                known[pair] = True
     return sorted(rings)
 
 

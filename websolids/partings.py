@@ -1,6 +1,6 @@
 """Partings: few corners without which a web falls into parts."""
 
-from websolids.kinds import is_rising, is_tuple_of, is_word
+from websolids.kinds import is_count_tuple, is_rising, is_tuple_of, is_word
 from websolids.webs import check_web, neighbour_rows, parts_of
 
 MOST_IN_CUT = 2
@@ -16,14 +16,7 @@ def parting(web):
 def is_parting(web, value):
     """Whether any value is a parting of the web."""
     check_web(web)
-    if not is_tuple_of(value, 3) or not is_word(value[0], "parts"):
-        return False
-    many, cut, part = web[1], value[1], value[2]
-    if not is_rising(cut, many) or len(cut) > MOST_IN_CUT or not is_rising(part, many):
-        return False
-    if not part or any(corner in cut for corner in part) or len(part) + len(cut) == many:
-        return False
-    return not any(leads_out(tie, part, cut) for tie in web[2])
+    return is_tuple_of(value, 3) and is_word(value[0], "parts") and wrong_in_parting(web, value) is None
 
 
 def least_cut(web):
@@ -36,6 +29,18 @@ def is_three_joined(web):
     """Whether the web has at least four corners and no parting."""
     check_web(web)
     return has_no_parting(web)
+
+
+def wrong_in_parting(web, paper):
+    """What is wrong in a tuple of three parts, the first of them "parts", None if it is a parting: a word of [115]."""
+    many, cut, part = web[1], paper[1], paper[2]
+    if not is_count_tuple(cut) or not is_count_tuple(part):
+        return "form"
+    if not is_rising(cut, many) or not is_rising(part, many):
+        return "corners"
+    if len(cut) > MOST_IN_CUT or not part or len(part) + len(cut) >= many or any(corner in cut for corner in part):
+        return "corners"
+    return "open" if any(leads_out(tie, part, cut) for tie in web[2]) else None
 
 
 def least_parting(web):

@@ -1,6 +1,6 @@
 """RATIOS: exact numbers, their sums and products, their texts."""
 
-from math import gcd
+from math import gcd, lcm
 
 from websolids.errors import BadText, InvalidInteger, InvalidRatio, InvalidText, NoQuotient
 from websolids.kinds import is_integer, is_tuple_of
@@ -141,3 +141,25 @@ def ratio_sum(ratios):
 def ratio_sign(ratio):
     """1 above 0, 0 at 0, -1 below."""
     return (ratio[0] > 0) - (ratio[0] < 0)
+
+
+def ratio_greatest(ratios):
+    """The greatest of one or more RATIOS."""
+    greatest = ratios[0]
+    for part in ratios:
+        if ratio_sign(ratio_less(part, greatest)) > 0:
+            greatest = part
+    return greatest
+
+
+def shared_under(ratios):
+    """The least INTEGER from 1 on that makes all of some RATIOS whole when they are multiplied by it."""
+    shared = 1
+    for part in ratios:
+        shared = lcm(shared, part[1])
+    return shared
+
+
+def wholes_of(ratios, under):
+    """The list of the INTEGERS that RATIOS become when they are multiplied by a number that makes them whole."""
+    return [number * (under // own) for number, own in ratios]

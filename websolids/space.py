@@ -151,3 +151,11 @@ def row_less(row, other):
 def row_times(row, worth):
     """A row of RATIOS, each number multiplied by a RATIO."""
     return tuple([ratio_times(part, worth) for part in row])
+
+
+def middle_of_rows(rows):
+    """The sum of rows of RATIOS, number by number, divided by how many rows they are."""
+    total = rows[0]
+    for row in rows[1:]:
+        total = row_plus(total, row)
+    return row_times(total, (1, len(rows)))

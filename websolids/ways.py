@@ -37,9 +37,7 @@ def plain_ring(web, ring):
     """The PLAIN RING of a ring that is told from any of its corners on."""
     check_web(web)
     check_round(web, ring)
-    start = ring.index(min(ring))
-    turned = ring[start:] + ring[:start]
-    return min(turned, turned[:1] + turned[:0:-1])
+    return lesser_way_round(from_least(ring))
 
 
 def has_chord(web, ring):
@@ -67,6 +65,27 @@ def check_round(web, value):
     """Raises what is told for a parameter that must be a ring, written from any of its corners on."""
     if not is_round_in(web, value):
         raise InvalidRing(value)
+
+
+def from_least(row):
+    """A row of unlike corners, written from any of them on, as a tuple from the least one on."""
+    start = row.index(min(row))
+    return tuple(row[start:] + row[:start])
+
+
+def backwards(row):
+    """A ring or a round the other way about, from the same corner on."""
+    return row[:1] + row[:0:-1]
+
+
+def lesser_way_round(ring):
+    """The PLAIN RING of a RING."""
+    return min(ring, backwards(ring))
+
+
+def ring_steps(ring):
+    """The steps of a ring: from each corner to the one behind it, from the last one to the first."""
+    return list(zip(ring, ring[1:] + ring[:1]))
 
 
 def least_way(rows, one, other, barred):

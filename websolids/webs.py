@@ -128,10 +128,15 @@ def check_corners(web, value):
 
 def web_of_pairs(many, pairs):
     """The web of pairs of unlike corners, some perhaps told more than once."""
-    ties = sorted(set([(min(pair), max(pair)) for pair in pairs]))
+    ties = sorted_ties(pairs)
     if len(ties) > MOST_TIES:
         raise TooMany("ties", MOST_TIES)
-    return ("web", many, tuple(ties))
+    return ("web", many, ties)
+
+
+def sorted_ties(pairs):
+    """The sorted tuple of the ties of pairs of corners, each tie once."""
+    return tuple(sorted(set([(min(pair), max(pair)) for pair in pairs])))
 
 
 def has_tie(web, one, other):
