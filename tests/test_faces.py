@@ -60,8 +60,9 @@ class IsFaceTest(Checking):
     def test_a_ring_round_the_middle(self):
         cube = samples.cube()
         around = plain((1, 3, 2, 6, 4, 5))
+        self.assertEqual(len([tie for tie in cube[2] if set(tie) <= set(around)]), 6)
+        self.assertEqual(looks.lots_without(cube, around), [(0,), (7,)])
         self.no(is_face(cube, around))
-        self.no(any([len(set(tie) & set(around)) == 2 for tie in cube[2]]) and looks_like_face(cube, around))
         self.yes(is_face(cube, (0, 1, 3, 2)))
         self.same(len(faces(cube)), 6)
 

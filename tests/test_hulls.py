@@ -143,9 +143,8 @@ class HullTest(Checking):
             if many == 20:
                 self.looked_at(points)
             else:
-                for call in (hull,):
-                    self.refused(TooMany, {"what": "corners", "limit": 20}, call, points)
-                    self.refused(TooMany, {"what": "corners", "limit": 20}, call, points=points)
+                self.refused(TooMany, {"what": "corners", "limit": 20}, hull, points)
+                self.refused(TooMany, {"what": "corners", "limit": 20}, hull, points=points)
                 part = hull(points[:20])
                 self.no(is_hull(points, part))
                 self.no(is_hull(points, ("solid", tuple(sorted(points)), part[2])))

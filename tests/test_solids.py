@@ -91,8 +91,22 @@ class IsSolidTest(Checking):
             self.assertIs(is_solid(value), looks_like_solid(value))
         self.no(is_solid(("solid", TENT[1] + (told((Fraction(1, 9),) * 3),), TENT[2])))
 
+    def test_a_corner_within_a_tie_of_two_faces(self):
+        for solid in (TENT, CUBE, solidsamples.solids()[4]):
+            word, corners, faces = solid
+            for u, v in ties_of(solid)[::5]:
+                middle = told([(a + b) / 2 for a, b in zip(exact(corners[u]), exact(corners[v]))])
+                rows = []
+                for ring in faces:
+                    row = [[corner, len(corners)] if {corner, behind} == {u, v} else [corner]
+                           for corner, behind in zip(ring, ring[1:] + ring[:1])]
+                    rows.append(from_least([corner for part in row for corner in part]))
+                value = (word, corners + (middle,), tuple(sorted(rows)))
+                self.assertFalse(looks_like_solid(value))
+                self.no(is_solid(value))
+
     def test_two_solids_told_as_one(self):
-        other = tuple([(x[:1] + x[1:], y, (z[0] + 9 * z[1], z[1])) for x, y, z in TENT[1]])
+        other = tuple([(x, y, (z[0] + 9 * z[1], z[1])) for x, y, z in TENT[1]])
         faces = TENT[2] + tuple([tuple([corner + 4 for corner in ring]) for ring in TENT[2]])
         self.no(is_solid(("solid", TENT[1] + other, faces)))
 
@@ -108,6 +122,12 @@ class IsSolidTest(Checking):
 
     def test_bounds(self):
         self.yes(is_solid(hull(solidsamples.bowl(20, 8))))
+        for many in (19, 20):
+            base = [told((k, k * k, 0)) for k in range(many)]
+            sides = [from_least((k, (k + 1) % many, many)) for k in range(many)]
+            faces = tuple(sorted(sides + [(0,) + tuple(range(many - 1, 0, -1))]))
+            value = ("solid", tuple(base + [told((3, 12, 4))]), faces)
+            self.assertIs(is_solid(value), many == 19)
         many = solidsamples.bowl(21, 8)
         self.no(is_solid(("solid", tuple(many), ((0, 1, 2), (0, 2, 3), (0, 3, 1), (1, 3, 2)))))
         self.no(is_solid(("solid", TENT[1][:3], ((0, 1, 2), (0, 2, 1)))))

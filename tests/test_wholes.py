@@ -89,6 +89,18 @@ class WholesTest(Checking):
         self.assertEqual(sizes[40], 1)
         self.assertLess(sizes[1], 100)
 
+    def test_trials_are_of_use(self):
+        for solid in (hull(solidsamples.bowl(9, 2, 10 ** 6)), hull(solidsamples.bowl(20, 3, 10 ** 6))):
+            sizes = [greatest_size(shrunk(solid, room))[0] for room in (0, 1, 2, 6, 40)]
+            self.assertEqual(sizes, sorted(sizes, reverse=True))
+            self.assertLess(10 ** 5 * sizes[4], sizes[0])
+        # Corners of faces with more than three can't be put nearer one by one; but the map alone tells a lesser solid.
+        long = with_numbers(solidsamples.moved(solid_of_map(the_map(solidsamples.wheel(7))), 3),
+                            lambda part: part * (10 ** 30 + 57) + Fraction(1, 10 ** 30 + 57))
+        sizes = [greatest_size(shrunk(long, room))[0] for room in (0, 1, 2)]
+        self.assertLess(sizes[2], sizes[1])
+        self.assertLess(10 ** 20 * sizes[1], sizes[0])
+
     def test_polar_ones(self):
         for solid in [polar(solid, inside(solid)) for solid in solidsamples.solids() if len(solid[2]) <= 20]:
             for room in (0, 1, 40):

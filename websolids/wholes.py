@@ -102,11 +102,17 @@ def least_column(numbers):
 
 def nearer_rows(rows, rings, trials):
     """Rows put nearer to 0, and to each other, by so many trials, as long as they make a right solid."""
-    shift = greatest_in(rows).bit_length() // 2
-    for _ in range(trials):
-        nearer = [[number + (1 << shift >> 1) >> shift for number in row] for row in rows]
+    left, shift = trials, greatest_in(rows).bit_length() // 2
+    while left > 0 and shift > 0:
+        nearer = [[halved(number, shift) for number in row] for row in rows]
         if is_solid(solid_of_rows(nearer, rings)):
             rows = nearer
         else:
             shift = shift // 2
+        left = left - 1
     return rows
+
+
+def halved(number, times):
+    """The whole number nearest to a number that is halved so many times, at least once."""
+    return (number + (1 << (times - 1))) >> times
