@@ -36,14 +36,15 @@ def shrunk(solid, room):
     check_solid(solid)
     if not is_count_below(room, MOST_TRIALS + 1):
         raise InvalidRoom(room)
-    rows, trials = whole_rows(solid), room
+    rows = whole_rows(solid)
     if greatest_in(rows).bit_length() > MOST_BITS:
+        # What may be told in more ways than one has no longer numbers; the map alone tells a solid with shorter ones.
         rows = rows_anew(solid)
-    if trials > 0:
+    if room > 0:
         rows = brought_down(rows)
-    if trials > 1:
+    if room > 1:
         rows = min(rows, brought_down(rows_anew(solid)), key=greatest_in)
-    return solid_of_rows(nearer_rows(rows, solid[2], trials - 2), solid[2])
+    return solid_of_rows(nearer_rows(rows, solid[2], room - 2), solid[2])
 
 
 def is_shrunk(solid, value):
