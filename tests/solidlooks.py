@@ -2,7 +2,7 @@
 
 import itertools
 from fractions import Fraction
-from math import gcd
+from math import gcd, lcm
 
 from tests.looks import is_number
 
@@ -155,3 +155,22 @@ def spoilt(solid):
         crossed = (ring[0], ring[2], ring[1]) + ring[3:]
         wrong.append((word, corners, tuple(sorted(faces[:at] + (crossed,) + faces[at + 1:]))))
     return wrong
+
+
+def whole_plane(solid, position):
+    """(a, b, c, d) of a face's plane: INTEGERS without a common divisor."""
+    outward, level = plane_of(solid, position)
+    parts = outward + [level]
+    under = lcm(*[part.denominator for part in parts])
+    wholes = [int(part * under) for part in parts]
+    return [whole // gcd(*wholes) for whole in wholes]
+
+
+def size_of(solid):
+    """The size of a solid, by tetrahedra from (0, 0, 0)."""
+    points = [exact(corner) for corner in solid[1]]
+    total = Fraction(0)
+    for ring in solid[2]:
+        for one, other in zip(ring[1:], ring[2:]):
+            total += product(points[ring[0]], cross(points[one], points[other]))
+    return total / 6

@@ -12,10 +12,13 @@ from websolids.equations import is_solution, solved_equations
 from websolids.faces import faces, faces_at, faces_by_rings
 from websolids.hulls import hull, is_hull, needed
 from websolids.lifting import lifted, pulls, slopes
+from websolids.looks import corners_seen, seen
+from websolids.made import is_made
 from websolids.maps import map_of_rings, rings_of
 from websolids.middles import is_placed, placed, rings_around
 from websolids.polar import polar_names
 from websolids.refusals import reason
+from websolids.sections import section
 from websolids.solids import faces_of, is_solid, planes
 from websolids.threeways import are_separate, is_three_ways, separate_ways, three_ways
 from websolids.ways import shortest_way
@@ -55,10 +58,17 @@ PARAMETERS = {
     "polar": "faces_round(solid,corner) polar_names(solid) polar(solid,point)",
     "wholes": "scale(solid) enlarged(solid) greatest_size(solid) shrunk(solid,room) is_shrunk(solid,value)",
     "refusals": "is_refusal(web,value) reason(web,value) refusal(web)",
+    "made": "solid_of(web) has_solid(web) is_made(web,value)",
+    "webdeeds": "cut_corner(web,corner) raise_face(web,ring) tie_across(web,one,other) "
+                "glued(first,one_round,second,other_round)",
+    "soliddeeds": "cut_off(solid,corner) raised(solid,position) mirrored(solid) moved(solid,matrix,point)",
+    "sections": "section(solid,plane) halves(solid,plane)",
+    "looks": "seen(solid,point) rim(solid,point) corners_seen(solid,point) is_blocked(solid,one,other)",
 }
 FOUR = samples.full_web(4)
 CHART, SOLID = drawn(FOUR), solidsamples.solids()[0]
 ROWS, RIGHT = [[(2, 1), (1, 1)], [(1, 1), (3, 1)]], [(3, 1), (5, 1)]
+EYE = ((5, 1), (7, 1), (9, 1))
 HUNG = samples.hung([samples.full_web(4), samples.tree(4, 1), samples.ring_web(5)], 2)
 
 
@@ -81,7 +91,8 @@ class ConventionsTest(Checking):
                  (renamed_chart, [CHART, [3, 1, 0, 2]]), (solved_equations, [ROWS, RIGHT]),
                  (is_solution, [ROWS, RIGHT, ((4, 5), (7, 5))]), (hull, [list(SOLID[1])]), (needed, [list(SOLID[1])[::-1]]),
                  (is_hull, [list(SOLID[1]), SOLID]), (is_code, [[[1], [0]]]), (is_solid, [list(SOLID)]),
-                 (reason, [FOUR, ["parts", [0], [1]]]), (is_placed, [CHART, (0, 1, 2), [[(0, 1), (0, 1)]]])]
+                 (reason, [FOUR, ["parts", [0], [1]]]), (is_placed, [CHART, (0, 1, 2), [[(0, 1), (0, 1)]]]),
+                 (is_made, [FOUR, list(SOLID)])]
         for call, args in calls:
             kept = copy.deepcopy(args)
             first = call(*args)
@@ -104,7 +115,8 @@ class ConventionsTest(Checking):
                            (faces_at, (FOUR, 0, 1)), (faces_by_rings, (FOUR,)), (own_namings, (CHART,)),
                            (rings_around, (CHART, (0, 1, 2), placed(CHART, (0, 1, 2)), ((1, 3), (1, 3)))),
                            (slopes, (CHART, (0, 1, 2))), (lifted, (CHART, (0, 1, 2))), (pulls, (CHART, (0, 1, 2))),
-                           (planes, (SOLID,)), (faces_of, (SOLID, SOLID[1][0])), (needed, (SOLID[1],)), (polar_names, (SOLID,))]:
+                           (planes, (SOLID,)), (faces_of, (SOLID, SOLID[1][0])), (needed, (SOLID[1],)), (polar_names, (SOLID,)),
+                           (section, (SOLID, (1, 1, 1, 1))), (seen, (SOLID, EYE)), (corners_seen, (SOLID, EYE))]:
             self.new_list(call, *args)
 
     def test_what_is_told_has_no_list_that_was_passed(self):

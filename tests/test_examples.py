@@ -189,14 +189,60 @@ REFUSALS = r"""
 [True, 'ties', 'ties']
 """
 
+MADE = r"""
+>>> from websolids.made import has_solid, is_made, solid_of
+>>> four = ("web", 4, ((0, 1), (0, 2), (0, 3), (1, 2), (1, 3), (2, 3)))
+>>> o, x, y, z = ((0, 1), (0, 1), (0, 1)), ((1, 1), (0, 1), (0, 1)), ((0, 1), (1, 1), (0, 1)), ((0, 1), (0, 1), (1, 1))
+>>> tent = ("solid", (o, x, y, z), ((0, 1, 3), (0, 2, 1), (0, 3, 2), (1, 2, 3)))
+>>> [is_made(four, tent), is_made(four, tent[:2] + (((0, 1, 2), (0, 1, 3), (0, 3, 2), (1, 2, 3)),)), is_made(four, list(tent)), has_solid(four), has_solid(square), is_made(four, solid_of(four)), solid_of(two)]
+[True, False, False, True, False, True, ('few', 2)]
+"""
+
+WEBDEEDS = r"""
+>>> from websolids.webdeeds import cut_corner, glued, raise_face, tie_across
+>>> from websolids.webs import made_web
+>>> four = made_web(4, [(0, 1), (0, 2), (0, 3), (1, 2), (1, 3), (2, 3)])
+>>> cut_corner(four, 3)
+('web', 6, ((0, 1), (0, 2), (0, 3), (1, 2), (1, 4), (2, 5), (3, 4), (3, 5), (4, 5)))
+>>> [tie_across(cut_corner(four, 3), 4, 0)[2][3], raise_face(four, (0, 1, 2)) == made_web(5, list(four[2]) + [(0, 4), (1, 4), (2, 4)]), glued(four, (2, 1, 0), four, (3, 1, 2)) == raise_face(four, (0, 1, 2))]
+[(0, 4), True, True]
+"""
+
+SOLIDDEEDS = r"""
+>>> from websolids.soliddeeds import cut_off, mirrored, moved, raised
+>>> w, o = (1, 1), (0, 1)
+>>> piece = ("solid", ((o, o, o), (w, o, o), (o, w, o), (o, o, w)), ((0, 1, 3), (0, 2, 1), (0, 3, 2), (1, 2, 3)))
+>>> [mirrored(piece)[2], moved(piece, ((w, o, o), (o, w, o), (o, o, (2, 1))), (w, o, o))[1][3], raised(piece, 1)[1][4], len(raised(piece, 1)[2])]
+[((0, 1, 2), (0, 2, 3), (0, 3, 1), (1, 3, 2)), ((1, 1), (0, 1), (2, 1)), ((1, 3), (1, 3), (-1, 1)), 6]
+>>> [cut_off(piece, 3)[1][3:], cut_off(piece, 3)[2]]
+[(((0, 1), (0, 1), (1, 2)), ((1, 2), (0, 1), (1, 2)), ((0, 1), (1, 2), (1, 2))), ((0, 1, 4, 3), (0, 2, 1), (0, 3, 5, 2), (1, 2, 5, 4), (3, 4, 5))]
+"""
+
+SECTIONS = r"""
+>>> from websolids.sections import halves, section
+>>> edge = ("solid", (((0, 1), (0, 1), (0, 1)), ((1, 1), (0, 1), (0, 1)), ((0, 1), (1, 1), (0, 1)), ((0, 1), (0, 1), (1, 1))), ((0, 1, 3), (0, 2, 1), (0, 3, 2), (1, 2, 3)))
+>>> section(edge, (0, 0, 2, 1))
+[((0, 1), (0, 1), (1, 2)), ((1, 2), (0, 1), (1, 2)), ((0, 1), (1, 2), (1, 2))]
+>>> [section(edge, (1, 1, 1, 0)), section(edge, (1, 1, 1, 5)), [len(half[1]) for half in halves(edge, (0, 0, 2, 1))], halves(edge, (1, 1, 1, 1))[1]]
+[[((0, 1), (0, 1), (0, 1))], [], [6, 4], None]
+"""
+
+LOOKS = r"""
+>>> from websolids.looks import corners_seen, is_blocked, rim, seen
+>>> high, low = ((2, 1), (2, 1), (2, 1)), ((-1, 1), (-1, 1), (-1, 1))
+>>> [seen(edge, high), rim(edge, high), seen(edge, low), rim(edge, low), corners_seen(edge, high), is_blocked(edge, high, low), is_blocked(edge, high, edge[1][1])]
+[[3], (1, 2, 3), [0, 1, 2], (1, 3, 2), [1, 2, 3], True, False]
+"""
+
 
 class ExamplesTest(Checking):
 
     def test_examples(self):
         # Names stand for what they were in the last example that gave them.
         names = {}
-        rows = [RATIOS, SPACE, WEBS, WAYS, WEBTEXTS, PARTINGS, THREEWAYS, MAPS, DRAWING, BARRED, FACES, TURNED,
-                CODES, EQUATIONS, MIDDLES, LIFTING, SOLIDS, HULLS, POLAR, WHOLES, REFUSALS]
+        rows = [RATIOS, SPACE, WEBS, WAYS, WEBTEXTS, PARTINGS, THREEWAYS, MAPS, DRAWING, BARRED, FACES, TURNED, CODES,
+                EQUATIONS, MIDDLES, LIFTING, SOLIDS, HULLS, POLAR, WHOLES, REFUSALS, MADE, WEBDEEDS, SOLIDDEEDS,
+                SECTIONS, LOOKS]
         for at, text in enumerate(rows):
             examples = doctest.DocTestParser().get_doctest(text, names, f"examples {at}", None, 0)
             runner, told = doctest.DocTestRunner(verbose=False), []

@@ -32,6 +32,11 @@ INTERFACE = {
     "polar": "faces_round polar_names polar",
     "wholes": "scale enlarged greatest_size shrunk is_shrunk",
     "refusals": "is_refusal reason refusal",
+    "made": "solid_of has_solid is_made",
+    "webdeeds": "cut_corner raise_face tie_across glued",
+    "soliddeeds": "cut_off raised mirrored moved",
+    "sections": "section halves",
+    "looks": "seen rim corners_seen is_blocked",
 }
 WRONG = [
     ("L2", "import math\n"), ("L2", "from os import path\n"), ("L2", "from . import webs\n"),

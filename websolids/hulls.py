@@ -1,11 +1,11 @@
 """Hulls of points: the needed points and the faces, found by trying all threes."""
 
-from websolids.errors import Flat, InvalidPoints, TooMany
+from websolids.errors import Flat, InvalidPoints
 from websolids.kinds import is_listed
 from websolids.solids import is_solid
 from websolids.space import is_point
 from websolids.ways import from_least
-from websolids.webs import MOST_CORNERS
+from websolids.webs import check_many
 from websolids.wholerows import is_no_plane, spanned, whole_point, whole_product, whole_rise
 
 FEWEST_POINTS = 4
@@ -16,8 +16,7 @@ def hull(points):
     """The solid that is the hull of points, its corners sorted."""
     check_points(points)
     corners = needed_ones(points)
-    if len(corners) > MOST_CORNERS:
-        raise TooMany("corners", MOST_CORNERS)
+    check_many(len(corners))
     return hull_of_corners(corners)
 
 

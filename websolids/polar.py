@@ -1,20 +1,18 @@
 """Polar solids: a corner for each face, and a face for each corner."""
 
-from websolids.errors import InvalidCorner, NotInside, TooMany
-from websolids.kinds import is_count_below
+from websolids.errors import NotInside
 from websolids.maps import places_of_steps
 from websolids.ratios import ratio_contrary, ratio_inverse
-from websolids.solids import check_solid, face_planes, solid_map
+from websolids.solids import check_corner_of, check_solid, face_planes, solid_map
 from websolids.space import check_point, outward_row, rise, row_times
 from websolids.ways import from_least
-from websolids.webs import MOST_CORNERS
+from websolids.webs import check_many
 
 
 def faces_round(solid, corner):
     """The tuple of the positions of the faces round a corner."""
     check_solid(solid)
-    if not is_count_below(corner, len(solid[1])):
-        raise InvalidCorner(corner)
+    check_corner_of(solid, corner)
     return all_faces_round(solid)[corner]
 
 
@@ -31,8 +29,7 @@ def polar(solid, point):
     check_point(point)
     if not all(rise(plane, point)[0] < 0 for plane in face_planes(solid)):
         raise NotInside()
-    if len(solid[2]) > MOST_CORNERS:
-        raise TooMany("corners", MOST_CORNERS)
+    check_many(len(solid[2]))
     return polar_about(solid, point)
 
 

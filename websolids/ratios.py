@@ -152,6 +152,11 @@ def ratio_greatest(ratios):
     return greatest
 
 
+def ratio_least(ratios):
+    """The least of one or more RATIOS."""
+    return ratio_contrary(ratio_greatest([ratio_contrary(part) for part in ratios]))
+
+
 def shared_under(ratios):
     """The least INTEGER from 1 on that makes all of some RATIOS whole when they are multiplied by it."""
     shared = 1

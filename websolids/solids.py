@@ -1,7 +1,7 @@
 """SOLIDS: judged by sums alone, their planes, webs and maps, and what lies in them."""
 
-from websolids.errors import InvalidSolid
-from websolids.kinds import has_unlike_counts, is_tuple_of, is_word, threes_of
+from websolids.errors import InvalidCorner, InvalidPosition, InvalidSolid
+from websolids.kinds import has_unlike_counts, is_count_below, is_tuple_of, is_word, threes_of
 from websolids.maps import followers, round_of
 from websolids.space import check_point, is_point, middle_of_rows
 from websolids.ways import ring_steps
@@ -69,6 +69,18 @@ def check_solid(value):
     """Raises what is told for a parameter that must be a right SOLID."""
     if not is_solid(value):
         raise InvalidSolid(value)
+
+
+def check_corner_of(solid, value):
+    """Raises what is told for a parameter that must be a corner of what is known to be a solid."""
+    if not is_count_below(value, len(solid[1])):
+        raise InvalidCorner(value)
+
+
+def check_position(solid, value):
+    """Raises what is told for a parameter that must be the position of a face of what is known to be a solid."""
+    if not is_count_below(value, len(solid[2])):
+        raise InvalidPosition(value)
 
 
 def are_face_rings(value, many):

@@ -90,7 +90,7 @@ def between(one, other, part):
     check_point(other)
     if not is_ratio(part):
         raise InvalidRatio(part)
-    return row_plus(one, row_times(row_less(other, one), part))
+    return point_between(one, other, part)
 
 
 def check_point(value):
@@ -151,6 +151,16 @@ def row_less(row, other):
 def row_times(row, worth):
     """A row of RATIOS, each number multiplied by a RATIO."""
     return tuple([ratio_times(part, worth) for part in row])
+
+
+def point_between(one, other, part):
+    """The point at a part of the way between what are known to be points."""
+    return row_plus(one, row_times(row_less(other, one), part))
+
+
+def crossing(one, other, first_rise, last_rise):
+    """The point between two points at which a plane is crossed, above which they rise by so much."""
+    return point_between(one, other, ratio_times(first_rise, ratio_inverse(ratio_less(first_rise, last_rise))))
 
 
 def middle_of_rows(rows):

@@ -1,10 +1,10 @@
 """Maps turned about: their rings as corners."""
 
-from websolids.errors import NotThreeJoined, TooMany
+from websolids.errors import NotThreeJoined
 from websolids.maps import check_map, places_of_steps, rings_in
 from websolids.partings import has_no_parting
 from websolids.ways import from_least, ring_steps
-from websolids.webs import MOST_CORNERS, web_of_pairs
+from websolids.webs import check_many, web_of_pairs
 
 
 def turned(chart):
@@ -24,8 +24,7 @@ def checked_rings(chart):
     if not has_no_parting(chart[1]):
         raise NotThreeJoined()
     rings = rings_in(chart[2])
-    if len(rings) > MOST_CORNERS:
-        raise TooMany("corners", MOST_CORNERS)
+    check_many(len(rings))
     return rings
 
 

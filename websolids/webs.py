@@ -120,6 +120,12 @@ def check_corner(web, value):
         raise InvalidCorner(value)
 
 
+def check_many(many):
+    """Raises what is told where there would be so many corners."""
+    if many > MOST_CORNERS:
+        raise TooMany("corners", MOST_CORNERS)
+
+
 def check_corners(web, value):
     """Raises what is told for a parameter that must be a list of unlike corners of the web."""
     if not is_listed(value) or not has_unlike_counts(value, web[1]):
