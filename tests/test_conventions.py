@@ -6,7 +6,9 @@ import inspect
 
 from tests import samples, solidsamples
 from tests.checking import Checking
+from websolids.census import all_codes, codes_with
 from websolids.codes import is_code, own_namings, renamed_chart
+from websolids.commands import is_command
 from websolids.drawing import blocks, drawn
 from websolids.equations import is_solution, solved_equations
 from websolids.faces import faces, faces_at, faces_by_rings
@@ -17,7 +19,9 @@ from websolids.made import is_made
 from websolids.maps import map_of_rings, rings_of
 from websolids.middles import is_placed, placed, rings_around
 from websolids.polar import polar_names
+from websolids.records import judged
 from websolids.refusals import reason
+from websolids.rolling import rest_faces
 from websolids.sections import section
 from websolids.solids import faces_of, is_solid, planes
 from websolids.threeways import are_separate, is_three_ways, separate_ways, three_ways
@@ -64,6 +68,12 @@ PARAMETERS = {
     "soliddeeds": "cut_off(solid,corner) raised(solid,position) mirrored(solid) moved(solid,matrix,point)",
     "sections": "section(solid,plane) halves(solid,plane)",
     "looks": "seen(solid,point) rim(solid,point) corners_seen(solid,point) is_blocked(solid,one,other)",
+    "weights": "size(solid) middle_of(solid) outward(solid,position) foot_on(solid,position) "
+               "height_square(solid,position)",
+    "rolling": "rests_on(solid,position) rest_faces(solid) rolls_to(solid,position) course(solid,position)",
+    "census": "all_codes(many) codes_with(many,ties) kind_of(web) can_take_out(chart,one,other)",
+    "records": "judged(value) check_of(text) record_text(value) parse_record(text)",
+    "commands": "is_command(value) is_deed(value) point_words(point) ring_words(ring)",
 }
 FOUR = samples.full_web(4)
 CHART, SOLID = drawn(FOUR), solidsamples.solids()[0]
@@ -92,7 +102,8 @@ class ConventionsTest(Checking):
                  (is_solution, [ROWS, RIGHT, ((4, 5), (7, 5))]), (hull, [list(SOLID[1])]), (needed, [list(SOLID[1])[::-1]]),
                  (is_hull, [list(SOLID[1]), SOLID]), (is_code, [[[1], [0]]]), (is_solid, [list(SOLID)]),
                  (reason, [FOUR, ["parts", [0], [1]]]), (is_placed, [CHART, (0, 1, 2), [[(0, 1), (0, 1)]]]),
-                 (is_made, [FOUR, list(SOLID)])]
+                 (is_made, [FOUR, list(SOLID)]), (judged, [["web", 3, []]]), (judged, [("made", FOUR, list(SOLID))]),
+                 (is_command, [["undo"]])]
         for call, args in calls:
             kept = copy.deepcopy(args)
             first = call(*args)
@@ -116,7 +127,8 @@ class ConventionsTest(Checking):
                            (rings_around, (CHART, (0, 1, 2), placed(CHART, (0, 1, 2)), ((1, 3), (1, 3)))),
                            (slopes, (CHART, (0, 1, 2))), (lifted, (CHART, (0, 1, 2))), (pulls, (CHART, (0, 1, 2))),
                            (planes, (SOLID,)), (faces_of, (SOLID, SOLID[1][0])), (needed, (SOLID[1],)), (polar_names, (SOLID,)),
-                           (section, (SOLID, (1, 1, 1, 1))), (seen, (SOLID, EYE)), (corners_seen, (SOLID, EYE))]:
+                           (section, (SOLID, (1, 1, 1, 1))), (seen, (SOLID, EYE)), (corners_seen, (SOLID, EYE)),
+                           (rest_faces, (SOLID,)), (all_codes, (5,)), (codes_with, (5, 9))]:
             self.new_list(call, *args)
 
     def test_what_is_told_has_no_list_that_was_passed(self):

@@ -234,6 +234,54 @@ LOOKS = r"""
 [[3], (1, 2, 3), [0, 1, 2], (1, 3, 2), [1, 2, 3], True, False]
 """
 
+WEIGHTS = r"""
+>>> from websolids.weights import foot_on, height_square, middle_of, outward, size
+>>> o, i, two = (0, 1), (1, 1), (2, 1)
+>>> tent = ("solid", ((o, o, o), (two, o, o), (o, two, o), (o, o, two)), ((0, 1, 3), (0, 2, 1), (0, 3, 2), (1, 2, 3)))
+>>> [size(tent), middle_of(tent), outward(tent, 1), outward(tent, 3), foot_on(tent, 1), height_square(tent, 1), height_square(tent, 3)]
+[(4, 3), ((1, 2), (1, 2), (1, 2)), ((0, 1), (0, 1), (-2, 1)), ((2, 1), (2, 1), (2, 1)), ((1, 2), (1, 2), (0, 1)), (1, 4), (1, 12)]
+"""
+
+ROLLING = r"""
+>>> from websolids.rolling import course, rest_faces, rests_on, rolls_to
+>>> lean = ("solid", ((o, o, o), (i, o, o), (o, i, o), ((9, 1), o, i)), ((0, 1, 3), (0, 2, 1), (0, 3, 2), (1, 2, 3)))
+>>> [rests_on(tent, 1), rest_faces(tent), rolls_to(tent, 3), course(tent, 2)]
+[True, [0, 1, 2, 3], None, ([2], 'rest')]
+>>> [rests_on(lean, 1), rolls_to(lean, 1)]
+[False, 3]
+"""
+
+CENSUS = r"""
+>>> from websolids.census import all_codes, can_take_out, codes_with, kind_of
+>>> four, nine = ("web", 4, ((0, 1), (0, 2), (0, 3), (1, 2), (1, 3), (2, 3))), ("web", 5, ((0, 1), (0, 2), (0, 3), (0, 4), (1, 2), (1, 3), (1, 4), (2, 3), (2, 4)))
+>>> tent = ("map", four, ((1, 2, 3), (0, 3, 2), (0, 1, 3), (0, 2, 1)))
+>>> [len(all_codes(4)), codes_with(4, 6) == all_codes(4), codes_with(4, 5), kind_of(four), can_take_out(tent, 0, 1), kind_of(nine) == all_codes(5).index(codes_with(5, 9)[0])]
+[1, True, [], 0, False, True]
+"""
+
+RECORDS = r"""
+>>> from websolids.records import check_of, judged, parse_record, record_text
+>>> pair = ("web", 2, ((0, 1),))
+>>> two = ("refused", pair, ("few", 2))
+>>> [judged(pair), judged(two), judged(("refused", pair, ("few", 3))), judged("web"), judged(("solid", ())), check_of("ab")]
+[('ok', 'web'), ('ok', 'refused'), ('bad', 'refused'), ('bad', 'value'), ('bad', 'solid'), 293]
+>>> [record_text(two)[:28], record_text(two).split("\n")[3].split(" ")[:2], parse_record(record_text(two)) == two]
+['websolids 1 refused\n2: 0-1\nf', ['end', '3'], True]
+"""
+
+COMMANDS = r"""
+>>> from websolids.commands import is_command, is_deed, point_words, ring_words
+>>> [is_command("cut b a 0"), is_command("cut b a 00"), is_command("where a 1/2,0,-3"), is_command("where a 1/2,0"), is_command("hull a 0,0,0 1,0,0 0,1,0"), is_command("web w x"), is_deed("show w"), point_words(((1, 2), (0, 1), (-3, 1))), ring_words((0, 2, 11))]
+[True, False, True, False, False, True, False, '1/2,0,-3', '0-2-11']
+"""
+
+DESK = r"""
+>>> from websolids.desk import Desk
+>>> desk = Desk()
+>>> desk.do_all("hull a 0,0,0 1,0,0 0,1,0 0,0,1", "show a", "size a", "where a 1/8,1/8,1/8", "trace w a", "show w", "has w", "faces w", "undo", "names")
+['-', '0,0,0 0,0,1 0,1,0 1,0,0\n0-1-2 0-2-3 0-3-1 1-3-2', '1/6', 'in', '-', '4: 0-1 0-2 0-3 1-2 1-3 2-3', 'yes', '0-1-2 0-1-3 0-2-3 1-2-3', 'trace w a', 'a']
+"""
+
 
 class ExamplesTest(Checking):
 
@@ -242,7 +290,7 @@ class ExamplesTest(Checking):
         names = {}
         rows = [RATIOS, SPACE, WEBS, WAYS, WEBTEXTS, PARTINGS, THREEWAYS, MAPS, DRAWING, BARRED, FACES, TURNED, CODES,
                 EQUATIONS, MIDDLES, LIFTING, SOLIDS, HULLS, POLAR, WHOLES, REFUSALS, MADE, WEBDEEDS, SOLIDDEEDS,
-                SECTIONS, LOOKS]
+                SECTIONS, LOOKS, WEIGHTS, ROLLING, CENSUS, RECORDS, COMMANDS, DESK]
         for at, text in enumerate(rows):
             examples = doctest.DocTestParser().get_doctest(text, names, f"examples {at}", None, 0)
             runner, told = doctest.DocTestRunner(verbose=False), []

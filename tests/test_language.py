@@ -37,6 +37,12 @@ INTERFACE = {
     "soliddeeds": "cut_off raised mirrored moved",
     "sections": "section halves",
     "looks": "seen rim corners_seen is_blocked",
+    "weights": "size middle_of outward foot_on height_square",
+    "rolling": "rests_on rest_faces rolls_to course",
+    "census": "all_codes codes_with kind_of can_take_out",
+    "records": "judged check_of record_text parse_record",
+    "commands": "is_command is_deed point_words ring_words",
+    "desk": "Desk",
 }
 WRONG = [
     ("L2", "import math\n"), ("L2", "from os import path\n"), ("L2", "from . import webs\n"),

@@ -29,9 +29,7 @@ def rings_of(chart):
 def ring_left_of(chart, one, other):
     """The ring that has the step from one corner to the other."""
     check_map(chart)
-    check_corner(chart[1], one)
-    if not is_integer(other) or other not in chart[2][one]:
-        raise InvalidCorner(other)
+    check_step(chart, one, other)
     return least_turning(ring_from((one, other), steps_ahead(chart[2])))
 
 
@@ -58,6 +56,13 @@ def check_map(value):
     """Raises what is told for a parameter that must be a MAP."""
     if not is_map(value):
         raise InvalidMap(value)
+
+
+def check_step(chart, one, other):
+    """Raises what is told for two parameters that must be a corner of a map, and a neighbour of it."""
+    check_corner(chart[1], one)
+    if not is_integer(other) or other not in chart[2][one]:
+        raise InvalidCorner(other)
 
 
 def mirrored_chart(chart):

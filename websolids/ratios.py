@@ -6,6 +6,7 @@ from websolids.errors import BadText, InvalidInteger, InvalidRatio, InvalidText,
 from websolids.kinds import is_integer, is_tuple_of
 
 MOST_DIGITS = 40
+MOST_WRITTEN = 4000
 
 
 def is_ratio(value):
@@ -54,6 +55,23 @@ def parse_ratio(text):
         else:
             raise BadText(middle)
     return lowest(-number if start == 1 else number, under)
+
+
+def is_written(text):
+    """Whether a text is the decimal digits of a COUNT, without needless zeros, and not too many."""
+    if not 1 <= len(text) <= MOST_WRITTEN or not all(letter in "0123456789" for letter in text):
+        return False
+    return text == "0" or text[0] != "0"
+
+
+def ratio_written(text):
+    """The RATIO whose text this is, None if it is the text of none, or has too many digits."""
+    number, mark, under = text.partition("/")
+    digits = number[1:] if number.startswith("-") else number
+    if not is_written(digits) or (mark != "" and not is_written(under)):
+        return None
+    told = (int(number), int(under) if mark != "" else 1)
+    return told if is_ratio(told) and ratio_text(told) == text else None
 
 
 def read_under(text, start):

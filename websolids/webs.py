@@ -72,8 +72,7 @@ def without_tie(web, one, other):
     """The web without this tie."""
     if not are_tied(web, one, other):
         raise NotTied()
-    lost = (min(one, other), max(one, other))
-    return ("web", web[1], tuple([tie for tie in web[2] if tie != lost]))
+    return less_tie(web, one, other)
 
 
 def is_joined(web):
@@ -138,6 +137,12 @@ def web_of_pairs(many, pairs):
     if len(ties) > MOST_TIES:
         raise TooMany("ties", MOST_TIES)
     return ("web", many, ties)
+
+
+def less_tie(web, one, other):
+    """What is known to be a web, without the tie of two corners."""
+    lost = (min(one, other), max(one, other))
+    return ("web", web[1], tuple([tie for tie in web[2] if tie != lost]))
 
 
 def sorted_ties(pairs):
