@@ -44,7 +44,7 @@ def breaches(text, package="websolids"):
     """The breaches in a file's text: a list of (rule, line)."""
     tree = ast.parse(text)
     parents = {child: node for node in ast.walk(tree) for child in ast.iter_child_nodes(node)}
-    found = sizes(text, tree) + words(text, tree) + module_level(tree, package) + names(tree)
+    found = sizes(text, tree) + words(text, tree) + module_level(tree, package) + names(tree) + classes(tree)
     for node in ast.walk(tree):
         for look in (statement, value, call, raised, sets):
             found += [(rule, getattr(node, "lineno", 0)) for rule in look(node, parents)]
@@ -105,7 +105,7 @@ def module_level(tree, package):
             bound.append(node.name)
         elif isinstance(node, ast.Assign) and len(node.targets) == 1 and isinstance(node.targets[0], ast.Name):
             bound.append(node.targets[0].id)
-            found += [("L3", node.lineno)] * any([isinstance(part, (ast.Call, ast.Lambda)) for part in ast.walk(node)])
+            found += [("L3", node.lineno)] * (not is_plain(node.value))
         else:
             found.append(("L3", node.lineno))
     found += [("L15", 0) for name in set(bound) if bound.count(name) > 1]
@@ -118,6 +118,17 @@ def module_level(tree, package):
         if isinstance(node, ast.Import) or isinstance(node, ast.ImportFrom) and node not in tree.body:
             found.append(("L2", node.lineno))
     return found
+
+
+def is_plain(node):
+    """Whether a value is written out: a literal, or a list, tuple or dict of such."""
+    if isinstance(node, ast.Dict):
+        return all([is_plain(part) for part in node.keys + node.values])
+    if isinstance(node, (ast.List, ast.Tuple)):
+        return all([is_plain(part) for part in node.elts])
+    if isinstance(node, ast.UnaryOp) and isinstance(node.op, ast.USub):
+        node = node.operand
+    return isinstance(node, ast.Constant)
 
 
 def importable(node, package):
@@ -177,6 +188,31 @@ def names(tree):
         if isinstance(node, ast.Attribute) and (node.attr in NOWHERE or node.attr.startswith("__")):
             found.append(("L17", node.lineno))
     return found
+
+
+def classes(tree):
+    """L5, L28: what classes with operators have."""
+    found = []
+    for node in ast.walk(tree):
+        if isinstance(node, ast.ClassDef):
+            methods = {part.name: part for part in node.body if isinstance(part, ast.FunctionDef)}
+            found += [("L5", node.lineno)] * ("__getitem__" in methods and "__iter__" not in methods)
+            for name in set(methods) & {"__getitem__", "__contains__", "__len__"}:
+                found += [("L5", node.lineno)] * any([changes(part) for part in ast.walk(methods[name])])
+            for part in ast.walk(methods.get("__len__", ast.Pass())):
+                if isinstance(part, ast.Return):
+                    told = part.value.func if isinstance(part.value, ast.Call) else part.value
+                    right = isinstance(told, ast.Name) and told.id == "len" or isinstance(told, ast.Constant)
+                    found += [("L28", part.lineno)] * (not right)
+    return found
+
+
+def changes(node):
+    """Whether a part of code assigns something, or calls a method that changes."""
+    if isinstance(node, (ast.Assign, ast.AugAssign, ast.Delete)):
+        return True
+    changing = {"append", "clear", "extend", "insert", "pop", "remove", "reverse", "setdefault", "update", "add", "discard"}
+    return isinstance(node, ast.Call) and isinstance(node.func, ast.Attribute) and node.func.attr in changing
 
 
 def statement(node, parents):

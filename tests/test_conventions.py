@@ -9,6 +9,7 @@ from tests.checking import Checking
 from websolids.census import all_codes, codes_with
 from websolids.codes import is_code, own_namings, renamed_chart
 from websolids.commands import is_command
+from websolids.desk import Desk
 from websolids.drawing import blocks, drawn
 from websolids.equations import is_solution, solved_equations
 from websolids.faces import faces, faces_at, faces_by_rings
@@ -75,6 +76,9 @@ PARAMETERS = {
     "records": "judged(value) check_of(text) record_text(value) parse_record(text)",
     "commands": "is_command(value) is_deed(value) point_words(point) ring_words(ring)",
 }
+# Each method of a desk stands in its class itself.
+DESK = ("__init__(self) names(self) __len__(self) __getitem__(self,name) __contains__(self,name) __call__(self,command) "
+        "do(self,command) do_all(self,commands) lines(self) twin(self) again(lines)")
 FOUR = samples.full_web(4)
 CHART, SOLID = drawn(FOUR), solidsamples.solids()[0]
 ROWS, RIGHT = [[(2, 1), (1, 1)], [(1, 1), (3, 1)]], [(3, 1), (5, 1)]
@@ -91,6 +95,13 @@ class ConventionsTest(Checking):
                 name, told = row[:-1].split("(")
                 self.assertTrue(inspect.isfunction(getattr(module, name)), name)
                 self.assertEqual(list(inspect.signature(getattr(module, name)).parameters), told.split(","), name)
+
+    def test_methods_of_a_desk(self):
+        for row in DESK.split():
+            name, told = row[:-1].split("(")
+            self.assertIn(name, vars(Desk))
+            self.assertEqual(list(inspect.signature(getattr(Desk, name)).parameters), told.split(","), name)
+        self.assertEqual(Desk.__bases__, (object,))
 
     def test_lists_that_are_passed_stay(self):
         rings = rings_of(drawn(HUNG))

@@ -1,6 +1,7 @@
 """The examples of the document's interface, as they stand there, file by file."""
 
 import doctest
+import pathlib
 
 from tests.checking import Checking
 
@@ -285,16 +286,28 @@ DESK = r"""
 
 class ExamplesTest(Checking):
 
+    def told(self, text, names):
+        """Runs examples with names from earlier ones; all names behind them."""
+        examples = doctest.DocTestParser().get_doctest(text, names, "examples", None, 0)
+        runner, told = doctest.DocTestRunner(verbose=False), []
+        runner.run(examples, out=told.append, clear_globs=False)
+        self.assertEqual((runner.failures, "".join(told)), (0, ""))
+        self.assertGreater(runner.tries, 1)
+        return examples.globs
+
     def test_examples(self):
         # Names stand for what they were in the last example that gave them.
         names = {}
         rows = [RATIOS, SPACE, WEBS, WAYS, WEBTEXTS, PARTINGS, THREEWAYS, MAPS, DRAWING, BARRED, FACES, TURNED, CODES,
                 EQUATIONS, MIDDLES, LIFTING, SOLIDS, HULLS, POLAR, WHOLES, REFUSALS, MADE, WEBDEEDS, SOLIDDEEDS,
                 SECTIONS, LOOKS, WEIGHTS, ROLLING, CENSUS, RECORDS, COMMANDS, DESK]
-        for at, text in enumerate(rows):
-            examples = doctest.DocTestParser().get_doctest(text, names, f"examples {at}", None, 0)
-            runner, told = doctest.DocTestRunner(verbose=False), []
-            runner.run(examples, out=told.append, clear_globs=False)
-            self.assertEqual((runner.failures, "".join(told)), (0, ""))
-            self.assertGreater(runner.tries, 1)
-            names = examples.globs
+        for text in rows:
+            names = self.told(text, names)
+
+    def test_the_examples_of_the_readme(self):
+        text = (pathlib.Path(__file__).resolve().parent.parent / "README.md").read_text(encoding="utf-8")
+        lots = [lot for lot in text.split("```\n")[1::2] if lot.startswith(">>>")]
+        self.assertGreater(len(lots), 2)
+        names = {}
+        for lot in lots:
+            names = self.told(lot, names)

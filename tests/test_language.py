@@ -48,7 +48,7 @@ WRONG = [
     ("L2", "import math\n"), ("L2", "from os import path\n"), ("L2", "from . import webs\n"),
     ("L2", "from websolids.webs import *\n"), ("L2", "from math import floor\n"), ("L2", "A = 1\nfrom math import gcd\n"),
     ("L2", "def f():\n    from math import gcd\n    return gcd(1, 2)\n"), ("L3", "print('a')\n"),
-    ("L3", "A, B = 1, 2\n"), ("L3", "A = len('a')\n"), ("L4", "@cache\ndef f():\n    return 1\n"),
+    ("L3", "A, B = 1, 2\n"), ("L3", "A = len('a')\n"), ("L3", "A = 1\nB = (A, 2)\n"), ("L3", "A = 1 + 1\n"), ("L4", "@cache\ndef f():\n    return 1\n"),
     ("L5", "class A:\n    def __del__(self):\n        pass\n"), ("L5", "@told\nclass A:\n    pass\n"),
     ("L6", "def f():\n    global a\n"), ("L6", "async def f():\n    return 1\n"), ("L6", "def f(a):\n    a\n"),
     ("L7", "A = 1.5\n"), ("L7", "def f(a):\n    return a / 2\n"), ("L7", "def f(a):\n    a /= 2\n    return a\n"),
@@ -66,6 +66,9 @@ WRONG = [
     ("L22", "def f(a):\n    g = sorted\n    return g(a)\n"), ("L23", "def f(a):\n    return reversed(zip(a, a))\n"),
     ("L24", "def f(a):\n    return set(a)\n"), ("L24", "def f(a):\n    return [x for x in list({1, a})]\n"),
     ("L25", "def f(a):\n    g = a.append\n    g(1)\n"), ("L27", "A = 'per%'\n"), ("L27", "A = 'a\\x41'\n"),
+    ("L5", "class A:\n    def __getitem__(self, at):\n        return at\n"),
+    ("L5", "class A:\n    def __contains__(self, x):\n        self.x = x\n        return True\n"),
+    ("L28", "class A:\n    def __len__(self):\n        return self.many\n"),
     ("L27", "def f(a, b):\n    return a ** (b + 1)\n"), ("L27", "def f(a):\n    return a ** 65\n"),
 ]
 

@@ -5,45 +5,37 @@ from websolids.kinds import is_count_tuple
 from websolids.ratios import is_written, ratio_text, ratio_written
 from websolids.space import check_point
 
-NEW = "new"
-NAME = "name"
-WEB = "web"
-SOLID = "solid"
-OTHER = "other"
-COUNT = "count"
-TEXT = "text"
-POINT = "point"
-POINTS = "points"
+# Of each word the kinds of the parts behind it.
 DEEDS = {
-    "web": (NEW, TEXT),
-    "hull": (NEW, POINTS),
-    "solid": (NEW, WEB),
-    "trace": (NEW, SOLID),
-    "polar": (NEW, SOLID),
-    "cut": (NEW, SOLID, COUNT),
-    "raise": (NEW, SOLID, COUNT),
-    "mirror": (NEW, SOLID),
-    "trim": (NEW, WEB, COUNT),
-    "tie": (NEW, WEB, COUNT, COUNT),
-    "read": (NEW, TEXT),
-    "copy": (NEW, NAME),
-    "drop": (NAME,),
+    "web": ("new", "text"),
+    "hull": ("new", "points"),
+    "solid": ("new", "web"),
+    "trace": ("new", "solid"),
+    "polar": ("new", "solid"),
+    "cut": ("new", "solid", "count"),
+    "raise": ("new", "solid", "count"),
+    "mirror": ("new", "solid"),
+    "trim": ("new", "web", "count"),
+    "tie": ("new", "web", "count", "count"),
+    "read": ("new", "text"),
+    "copy": ("new", "name"),
+    "drop": ("name",),
 }
 OTHERS = {
     "undo": (),
     "redo": (),
     "names": (),
-    "show": (NAME,),
-    "has": (WEB,),
-    "faces": (WEB,),
-    "alike": (SOLID, OTHER),
-    "size": (SOLID,),
-    "where": (SOLID, POINT),
-    "rests": (SOLID,),
-    "rolls": (SOLID, COUNT),
-    "judged": (NAME,),
-    "record": (NAME,),
-    "same": (NAME, OTHER),
+    "show": ("name",),
+    "has": ("web",),
+    "faces": ("web",),
+    "alike": ("solid", "other"),
+    "size": ("solid",),
+    "where": ("solid", "point"),
+    "rests": ("solid",),
+    "rolls": ("solid", "count"),
+    "judged": ("name",),
+    "record": ("name",),
+    "same": ("name", "other"),
 }
 LETTERS = "abcdefghijklmnopqrstuvwxyz"
 DIGITS = "0123456789"
@@ -102,13 +94,13 @@ def read_parts(command):
 
 def read_part(kind, word):
     """What a part of a command tells, None if it isn't of this kind."""
-    if kind == TEXT:
+    if kind == "text":
         return word if word != "" else None
-    if kind == COUNT:
+    if kind == "count":
         return int(word) if is_written(word) and len(word) <= LONGEST_COUNT else None
-    if kind == POINT:
+    if kind == "point":
         return read_point_words(word)
-    if kind == POINTS:
+    if kind == "points":
         points = [read_point_words(part) for part in word.split(" ")]
         return points if FEWEST_POINTS <= len(points) <= MOST_POINTS and None not in points else None
     return word if is_name(word) else None

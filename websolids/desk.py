@@ -1,7 +1,6 @@
 """A desk that keeps webs and solids under names, and does what commands tell."""
 
-from websolids.commands import DEEDS, NAME, NEW, OTHER, SOLID, WEB
-from websolids.commands import first_word, is_command, is_deed, kinds_of_parts, read_parts
+from websolids.commands import DEEDS, first_word, is_command, is_deed, kinds_of_parts, read_parts
 from websolids.deeds import NOTHING, answered, listed, made_thing
 from websolids.errors import (
     CommandFailed,
@@ -22,7 +21,7 @@ from websolids.kinds import is_listed
 MOST_NAMES = 16
 MOST_DEEDS = 200
 # The kinds of parts that are names of what is kept.
-SORTED = (NAME, WEB, SOLID, OTHER)
+WANTED = ("name", "web", "solid", "other")
 
 
 class Desk:
@@ -115,25 +114,28 @@ class Desk:
         """The parts of a command: things in the place of their names, all else as it was read."""
         parts = []
         for kind, word in zip(kinds, words):
-            if kind == NEW and self._has(word):
+            if kind == "new" and self._has(word):
                 raise NameTaken(word)
-            if kind in SORTED:
-                parts.append(self._thing(word, parts[-1][0] if kind == OTHER else kind))
+            if kind in WANTED:
+                parts.append(self._thing(word, parts[-1][0] if kind == "other" else kind))
             else:
                 parts.append(word)
         return parts
 
     def _thing(self, name, sort):
-        """What is kept under a name: of a sort, or any if this is NAME."""
-        if not self._has(name) or sort not in (NAME, self._things()[name][0]):
+        """What is kept under a name: of a sort, or of any if this is "name"."""
+        if not self._has(name) or sort not in ("name", self._things()[name][0]):
             raise UnknownName(name)
         return self._things()[name]
 
     def _changed(self, word, words, parts):
         """What is kept when a deed is done."""
+        things = dict(self._things())
         if word == "drop":
-            return {name: thing for name, thing in self._things().items() if name != words[0]}
-        return {**self._things(), words[0]: made_thing(word, parts[1:])}
+            del things[words[0]]
+        else:
+            things[words[0]] = made_thing(word, parts[1:])
+        return things
 
     def _keep(self, line, things):
         """Goes on with these things, if they and the deeds are not too many."""

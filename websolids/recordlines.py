@@ -1,6 +1,5 @@
 """The lines of records, read by their forms, each by what stands ahead of it."""
 
-from websolids.barred import FIVE, WELLS
 from websolids.errors import BadRecord, BadText
 from websolids.ratios import is_written, ratio_written
 from websolids.solids import FEWEST_CORNERS, FEWEST_FACES
@@ -11,8 +10,8 @@ MOST_FACES = 36
 FEWEST_IN_ROUND = 1
 FEWEST_IN_WAY = 2
 FEWEST_IN_FACE = 3
-HEADS = {FIVE: 5, WELLS: 6}
-WAYS = {FIVE: 10, WELLS: 9}
+HEADS = {"five": 5, "wells": 6}
+WAYS = {"five": 10, "wells": 9}
 
 
 def line_at(lines, at):
@@ -73,7 +72,7 @@ def read_point(lines, at):
 def read_paper(lines, at, many):
     """What the lines of a paper of refusal tell, right or not, and the place behind them."""
     words = line_at(lines, at).split(" ")
-    if words[:2] in (["barred", FIVE], ["barred", WELLS]):
+    if words[:2] in (["barred", "five"], ["barred", "wells"]):
         kind = words[1]
         heads, end = numbers_in(words[2:], many), at + 1 + WAYS[kind]
         if heads is None or len(heads) != HEADS[kind]:
