@@ -12,6 +12,7 @@ from tests.solidsamples import told
 from tests.test_solids import CUBE, NO_SOLIDS, TENT
 from tests.test_space import NO_POINTS
 from websolids.errors import InvalidCorner, InvalidMatrix, InvalidPoint, InvalidPosition, InvalidSolid, Singular, TooMany
+from websolids.hulls import hull
 from websolids.maps import mirror
 from websolids.soliddeeds import cut_off, mirrored, moved, raised
 from websolids.solids import map_of, web_of
@@ -144,6 +145,10 @@ class RaisedTest(Checking):
         self.same(other[1][4], ((1, 3), (1, 3), NEG))
         self.same(other[2], ((0, 1, 3), (0, 2, 4), (0, 3, 2), (0, 4, 1), (1, 2, 3), (1, 4, 2)))
         self.same(raised(PIECE, 3)[1][4], ((4, 3), (4, 3), (4, 3)))
+        # A bowl, wider above: the planes of its sides meet near below its bottom.
+        bowl = hull([told((x, y, 0)) for x in (0, 1) for y in (0, 1)] + [told((x, y, 1)) for x in (-1, 2) for y in (-1, 2)])
+        bottom = [at for at, ring in enumerate(bowl[2]) if all([bowl[1][corner][2] == O for corner in ring])][0]
+        self.same(raised(bowl, bottom)[1][8], ((1, 2), (1, 2), (-1, 4)))
         # On a pointed roof another plane stands in the way.
         roof = ("solid", (told((0, 0, 0)), told((6, 0, 0)), told((0, 6, 0)), told((1, 1, 3))), PIECE[2])
         self.same(raised(roof, 3), ("solid", roof[1] + (looked_top(roof, 3),), raised(PIECE, 3)[2]))
@@ -152,6 +157,7 @@ class RaisedTest(Checking):
         for value in [v for v in samples.junk() if v not in (0, 1, 2) or isinstance(v, bool)] + [4, 6, -1, "0", (0,), [0]]:
             self.refused(InvalidPosition, {"value": value}, raised, TENT, value)
             self.refused(InvalidPosition, {"value": value}, raised, position=value, solid=TENT)
+        self.same(len(raised(hull(solidsamples.bowl(19, 3)), 5)[1]), 20)
         full = [solid for solid in solidsamples.solids() if len(solid[1]) == 20][0]
         self.refused(InvalidPosition, {"value": len(full[2])}, raised, full, len(full[2]))
         self.refused(TooMany, CORNERS, raised, full, len(full[2]) - 1)

@@ -53,8 +53,8 @@ def fan(ring):
 def tetrahedra(solid):
     """The tetrahedra into which a solid falls, from its corner 0: of each the list of its corners, and its size."""
     found, points = [], solid[1]
-    for ring in solid[2]:
-        for triangle in fan(ring) if 0 not in ring else []:
+    for ring in [ring for ring in solid[2] if 0 not in ring]:
+        for triangle in fan(ring):
             sides = [row_less(points[corner], points[0]) for corner in triangle]
             worth = length_product(sides[0], cross_row(sides[1], sides[2]))
             corners = [points[0]] + [points[corner] for corner in triangle]
