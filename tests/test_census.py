@@ -64,7 +64,8 @@ class CodesTest(Checking):
                 self.assertTrue(all([len(chart_of_code(each)[1][2]) == ties for each in lot]))
         self.same([len(codes_with(6, ties)) for ties in range(8, 14)], [0, 1, 2, 2, 2, 0])
         self.same([len(codes_with(5, ties)) for ties in range(7, 11)], [0, 1, 1, 0])
-        self.same([codes_with(ties=6, many=4), codes_with(4, 5), codes_with(4, 0), codes_with(6, 60)], [all_codes(4), [], [], []])
+        self.same([codes_with(ties=6, many=4), codes_with(4, 5), codes_with(4, 0), codes_with(6, 60)],
+                  [all_codes(4), [], [], []])
 
     def test_turned_about(self):
         # The kinds with so many corners and rings are, turned about, those with as many rings and corners.

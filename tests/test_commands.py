@@ -20,7 +20,8 @@ FOUR_POINTS = "0,0,0 1,0,0 0,1,0 0,0,1"
 LONG = ",".join(["123456789012"] * 3)
 RIGHT = {
     "NEW": ["a", "w", "a1", "abcdefgh", "z9999999", "undo", "web"], "NAME": ["b", "x0", "hgfedcba", "names"],
-    "COUNT": ["0", "1", "9", "10", "19", "20", "99"], "TEXT": ["x", " ", "  3:", "4: 0-1", "a b c", "\n", "websolids 1 web\n1:\n", "%"],
+    "COUNT": ["0", "1", "9", "10", "19", "20", "99"], "TEXT": ["x", " ", "  3:", "4: 0-1", "a b c", "\n",
+                                                               "websolids 1 web\n1:\n", "%"],
     "POINT": ["0,0,0", "1/2,0,-3", "-1/2,-7,12/5", LONG, "-123456/654323,0,-999999999999", "1/99999999999,0,0"],
     "POINTS": [FOUR_POINTS, " ".join(["1/2,0,-3"] * 20), FOUR_POINTS + " 0,0,0", FOUR_POINTS + " 5,5,5 " + LONG],
 }
@@ -28,9 +29,11 @@ WRONG = {
     "NEW": ["", "A", "aB", "1a", "9", "abcdefghi", "a-b", "a_b", "a.", "-", "a,b", "a\n", "\na", "a/b"],
     "COUNT": ["", "00", "01", "100", "007", "-1", "+1", "1.0", "a", "1a", "0x", " 1", "1 ", "1\n", "1/2", "1-2"],
     "TEXT": [""],
-    "POINT": ["", "0,0", "0,0,0,0", "0,0,", ",0,0", "0, 0,0", "0 0 0", "1/1,0,0", "2/4,0,0", "0/3,0,0", "-0,0,0", "00,0,0", "01,0,0",
+    "POINT": ["", "0,0", "0,0,0,0", "0,0,", ",0,0", "0, 0,0", "0 0 0", "1/1,0,0", "2/4,0,0", "0/3,0,0", "-0,0,0",
+              "00,0,0", "01,0,0",
               "1.5,0,0", "+1,0,0", "1/0,0,0", "1/-2,0,0", "a,0,0", "0,0,0 ", "1234567890123,0,0", "0,0,-1234567890123",
-              "0,1234567/7654321,0", "123456/1234567,0,0", "1/2/3,0,0", "--1,0,0", "(0,0,0)", "0;0;0", "0,0,0\n", "1/02,0,0", "-,0,0", "/2,0,0"],
+              "0,1234567/7654321,0", "123456/1234567,0,0", "1/2/3,0,0", "--1,0,0", "(0,0,0)", "0;0;0", "0,0,0\n",
+              "1/02,0,0", "-,0,0", "/2,0,0"],
 }
 WRONG["NAME"] = WRONG["NEW"]
 WRONG["POINTS"] = ["", "0,0,0", "0,0,0 1,0,0 0,1,0", FOUR_POINTS + " ", " " + FOUR_POINTS, FOUR_POINTS.replace(" ", "  "),
@@ -44,7 +47,8 @@ def looked(value):
         return False, False
     name, count = "[a-z][a-z0-9]{0,7}", "(?:0|[1-9][0-9]?)"
     point = "(?:[-0-9/]+,[-0-9/]+,[-0-9/]+)"
-    parts = {"NEW": name, "NAME": name, "COUNT": count, "TEXT": "(?s:.+)", "POINT": point, "POINTS": f"{point}(?: {point}){{3,19}}"}
+    parts = {"NEW": name, "NAME": name, "COUNT": count, "TEXT": "(?s:.+)", "POINT": point,
+             "POINTS": f"{point}(?: {point}){{3,19}}"}
     for at, row in enumerate(DEEDS + OTHERS):
         words = row.split(" ")
         if re.fullmatch(" ".join(words[:1] + [parts[word] for word in words[1:]]), value):
@@ -120,7 +124,8 @@ class CommandsTest(Checking):
             self.yes(is_command(row))
 
     def test_known(self):
-        self.same([is_command("cut b a 0"), is_command("cut b a 00"), is_command("where a 1/2,0,-3"), is_command("where a 1/2,0"),
+        self.same([is_command("cut b a 0"), is_command("cut b a 00"), is_command("where a 1/2,0,-3"),
+                   is_command("where a 1/2,0"),
                    is_command("hull a 0,0,0 1,0,0 0,1,0"), is_command("web w x"), is_deed("show w")],
                   [True, False, True, False, False, True, False])
         self.yes(is_command(value="undo"))
@@ -167,7 +172,8 @@ class WordsTest(Checking):
         self.same(ring_words(ring=(5, 4, 3, 0, 99)), "5-4-3-0-99")
         self.same(ring_words(tuple(range(40))), "-".join([str(at) for at in range(40)]))
         wrong = [value for value in samples.junk() if value != (0, 1, 2) or type(value) is not tuple]
-        for value in wrong + [(0, 1), (0, 1, 1), (0, 1, 0), (-1, 0, 1), (0, True, 2), (False, 1, 2), [0, 1, 2], (0, 1, "2"), (0, 1, None),
+        for value in wrong + [(0, 1), (0, 1, 1), (0, 1, 0), (-1, 0, 1), (0, True, 2), (False, 1, 2), [0, 1, 2],
+                              (0, 1, "2"), (0, 1, None),
                               ((0, 1, 2),), (0, 1, (2,)), "012", (0, 1, 2, 2)]:
             self.refused(InvalidRing, {"value": value}, ring_words, value)
             self.refused(InvalidRing, {"value": value}, ring_words, ring=value)

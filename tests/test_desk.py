@@ -227,24 +227,30 @@ class ErrorsTest(Checking):
         self.same(redone(desk), further)
 
     def test_no_commands(self):
-        for value in samples.junk() + ["", "do", "cut c b", "cut c b 00", "web c", "names ", "undo 1", "hull c 0,0,0", "drop", ["undo"]]:
+        for value in samples.junk() + ["", "do", "cut c b", "cut c b 00", "web c", "names ", "undo 1", "hull c 0,0,0",
+                                       "drop", ["undo"]]:
             self.fails(InvalidCommand, {"value": value}, value)
 
     def test_names_taken(self):
-        for command in ["web a 3: 0-9", "hull b " + FOUR_POINTS, "solid w nothing", "trace x nothing", "polar q nothing", "cut a a 99",
-                        "raise a a 99", "mirror a nothing", "trim w w 99", "tie q q 0 0", "read a nothing", "copy a nothing", "copy a a"]:
+        for command in ["web a 3: 0-9", "hull b " + FOUR_POINTS, "solid w nothing", "trace x nothing",
+                        "polar q nothing", "cut a a 99",
+                        "raise a a 99", "mirror a nothing", "trim w w 99", "tie q q 0 0", "read a nothing",
+                        "copy a nothing", "copy a a"]:
             self.fails(NameTaken, {"name": command.split(" ")[1]}, command)
 
     def test_unknown_names(self):
-        for row in ["solid c {}", "trace c {}", "polar c {}", "cut c {} 99", "raise c {} 99", "mirror c {}", "trim c {} 99", "tie c {} 0 0",
-                    "copy c {}", "drop {}", "show {}", "has {}", "faces {}", "alike {} b", "alike b {}", "size {}", "where {} 0,0,0",
+        for row in ["solid c {}", "trace c {}", "polar c {}", "cut c {} 99", "raise c {} 99", "mirror c {}",
+                    "trim c {} 99", "tie c {} 0 0",
+                    "copy c {}", "drop {}", "show {}", "has {}", "faces {}", "alike {} b", "alike b {}", "size {}",
+                    "where {} 0,0,0",
                     "rests {}", "rolls {} 99", "judged {}", "record {}", "same {} q", "same q {}", "same {} nothing"]:
             for name in ("nothing", "c", "aa"):
                 self.fails(UnknownName, {"value": name}, row.format(name))
         for row in ["solid c {}", "trim c {} 99", "tie c {} 0 0", "has {}", "faces {}", "same q {}", "same w {}"]:
             for name in "ab":
                 self.fails(UnknownName, {"value": name}, row.format(name))
-        for row in ["trace c {}", "polar c {}", "cut c {} 99", "raise c {} 99", "mirror c {}", "alike {} b", "alike a {}", "alike {} nothing",
+        for row in ["trace c {}", "polar c {}", "cut c {} 99", "raise c {} 99", "mirror c {}", "alike {} b",
+                    "alike a {}", "alike {} nothing",
                     "size {}", "where {} 0,0,0", "rests {}", "rolls {} 99", "same a {}", "same b {}"]:
             for name in "wq":
                 self.fails(UnknownName, {"value": name}, row.format(name))
@@ -336,7 +342,8 @@ class GoingBackTest(Checking):
 
     def test_all_the_way_back_and_forth(self):
         desk, states = Desk(), []
-        rows = ["hull a " + FOUR_POINTS, "cut b a 0", "raise c b 1", "trace w c", "solid s w", "drop a", "mirror a c", "polar p a",
+        rows = ["hull a " + FOUR_POINTS, "cut b a 0", "raise c b 1", "trace w c", "solid s w", "drop a", "mirror a c",
+                "polar p a",
                 "copy q w", "trim r q 0", "drop w"]
         for row in rows:
             states.append(state(desk))
@@ -371,12 +378,15 @@ class GoingBackTest(Checking):
         desk = Desk()
         self.same(desk.do_all(), [])
         self.same(desk.do_all("hull a " + FOUR_POINTS, "show a", "undo", "names", "redo", "names"),
-                  ["-", "0,0,0 0,0,1 0,1,0 1,0,0\n0-1-2 0-2-3 0-3-1 1-3-2", "hull a " + FOUR_POINTS, "-", "hull a " + FOUR_POINTS, "a"])
+                  ["-", "0,0,0 0,0,1 0,1,0 1,0,0\n0-1-2 0-2-3 0-3-1 1-3-2", "hull a " + FOUR_POINTS, "-",
+                   "hull a " + FOUR_POINTS, "a"])
         ahead = state(desk)
         for rows, position, error in [
                 (["cut b a 0", "cut c b 0", "cut d nothing 0"], 2, UnknownName), (["undo", "undo"], 1, NothingToUndo),
-                (["undo", "web w 3:", "redo"], 2, NothingToRedo), (["x"], 0, InvalidCommand), (["names", None], 1, InvalidCommand),
-                (["drop a", "drop a", "names"], 1, UnknownName), (["copy b a"] * 2, 1, NameTaken), (["undo", "redo", "redo"], 2, NothingToRedo)]:
+                (["undo", "web w 3:", "redo"], 2, NothingToRedo), (["x"], 0, InvalidCommand),
+                (["names", None], 1, InvalidCommand),
+                (["drop a", "drop a", "names"], 1, UnknownName), (["copy b a"] * 2, 1, NameTaken),
+                (["undo", "redo", "redo"], 2, NothingToRedo)]:
             with self.assertRaises(CommandFailed) as caught:
                 desk.do_all(*rows)
             self.same(caught.exception.position, position)
@@ -420,11 +430,13 @@ class GoingBackTest(Checking):
             if type(value) not in (list, tuple):
                 self.refused(InvalidDeeds, {"position": None}, Desk.again, value)
                 self.refused(InvalidDeeds, {"position": None}, Desk.again, lines=value)
-        for value in [value for value in samples.junk() if not is_deed(value)] + ["undo", "redo", "names", "show w", "has w", "web w"]:
+        for value in [value for value in samples.junk() if not is_deed(value)] + ["undo", "redo", "names", "show w",
+            "has w", "web w"]:
             self.refused(InvalidDeeds, {"position": 0}, Desk.again, [value])
             self.refused(InvalidDeeds, {"position": 2}, Desk.again, ["web w 3:", "web w 3:", value, None])
             self.refused(InvalidDeeds, {"position": 1}, Desk.again, ("drop x", value))
-        for rows, position in [(["web w 3:", "web w 3:"], 1), (["drop x"], 0), (["web w 3:", "solid s w"], 1), (["web w 3: 0-1-2"], 0)]:
+        for rows, position in [(["web w 3:", "web w 3:"], 1), (["drop x"], 0), (["web w 3:", "solid s w"], 1),
+                               (["web w 3: 0-1-2"], 0)]:
             self.refused(CommandFailed, {"position": position}, Desk.again, rows)
             with self.assertRaises(CommandFailed) as caught:
                 Desk.again(rows)
@@ -450,9 +462,12 @@ class ByChanceTest(Checking):
                 new, name, other = chance.choice(list("cdefgh")), chance.choice(names), chance.choice(names)
                 corner, further = chance.randrange(9), chance.randrange(9)
                 command = chance.choice([
-                    f"cut {new} {name} {corner}", f"raise {new} {name} {corner}", f"mirror {new} {name}", f"polar {new} {name}",
-                    f"trace {new} {name}", f"solid {new} {name}", f"trim {new} {name} {corner}", f"tie {new} {name} {corner} {further}",
-                    f"copy {new} {name}", f"drop {name}", "undo", "redo", "undo", f"same {name} {other}", f"web {new} " + EIGHT])
+                    f"cut {new} {name} {corner}", f"raise {new} {name} {corner}", f"mirror {new} {name}",
+                    f"polar {new} {name}",
+                    f"trace {new} {name}", f"solid {new} {name}", f"trim {new} {name} {corner}",
+                    f"tie {new} {name} {corner} {further}",
+                    f"copy {new} {name}", f"drop {name}", "undo", "redo", "undo", f"same {name} {other}",
+                    f"web {new} " + EIGHT])
                 self.yes(is_command(command))
                 ahead = state(desk)
                 try:

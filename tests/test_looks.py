@@ -13,7 +13,7 @@ from websolids.errors import InvalidPoint, InvalidSolid, NotClear, NotOutside
 from websolids.hulls import hull
 from websolids.looks import corners_seen, is_blocked, rim, seen
 
-O, W, HALF = (0, 1), (1, 1), (1, 2)
+O, W = (0, 1), (1, 1)
 EDGE = ("solid", ((O, O, O), (W, O, O), (O, W, O), (O, O, W)), ((0, 1, 3), (0, 2, 1), (0, 3, 2), (1, 2, 3)))
 HIGH, LOW = told((2, 2, 2)), told((-1, -1, -1))
 EYES = (seen, rim, corners_seen)
@@ -171,12 +171,16 @@ class BlockedTest(Checking):
         half = Fraction(1, 2)
         ways = {
             False: [((0, 0, 0), (1, 0, 0)), ((-1, 0, 0), (5, 0, 0)), ((0, 0, 0), (1, 1, 0)), ((-1, -1, 1), (2, 2, 1)),
-                    ((-1, 1, half), (1, -1, half)), ((2, 2, 2), (1, 1, 1)), ((2, 0, 0), (0, 2, 0)), ((half, half, 1), (half, half, 2)),
-                    ((half, half, -1), (half, half, 0)), ((3, 3, 3), (2, 2, 2)), ((0, half, 3), (0, half, -3)), ((2, -1, half), (-1, -4, half)),
+                    ((-1, 1, half), (1, -1, half)), ((2, 2, 2), (1, 1, 1)), ((2, 0, 0), (0, 2, 0)),
+                    ((half, half, 1), (half, half, 2)),
+                    ((half, half, -1), (half, half, 0)), ((3, 3, 3), (2, 2, 2)), ((0, half, 3), (0, half, -3)),
+                    ((2, -1, half), (-1, -4, half)),
                     ((0, 0, 2), (2, 0, 0))],
             True: [((0, 0, 0), (1, 1, 1)), ((2, 2, 2), (-1, -1, -1)), ((half, half, half), (half, half, Fraction(3, 4))),
-                   ((half, half, half), (5, 6, 7)), ((half, half, 2), (half, half, half)), ((half, half, -1), (half, half, 9)),
-                   ((half, half, 0), (half, 0, half)), ((1, 0, 0), (0, 1, 1)), ((-1, half, half), (Fraction(1, 10 ** 50), half, half))],
+                   ((half, half, half), (5, 6, 7)), ((half, half, 2), (half, half, half)),
+                   ((half, half, -1), (half, half, 9)),
+                   ((half, half, 0), (half, 0, half)), ((1, 0, 0), (0, 1, 1)),
+                   ((-1, half, half), (Fraction(1, 10 ** 50), half, half))],
         }
         for wanted, rows in ways.items():
             for one, other in rows:

@@ -3,7 +3,7 @@
 import random
 from fractions import Fraction
 
-from tests import looks, samples, solidsamples
+from tests import samples, solidsamples
 from tests.checking import Checking
 from tests.solidlooks import exact, looks_like_solid, spoilt, ties_of
 from tests.solidsamples import told

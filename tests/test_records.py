@@ -228,7 +228,8 @@ class RecordsTest(Checking):
             ("made", FOUR, PIECE): "websolids 1 made\n4: 0-1 0-2 0-3 1-2 1-3 2-3\nsolid 4 4\n0 0 0\n0 0 1\n0 1 0\n1 0 0\n"
                                    "0 1 2\n0 2 3\n0 3 1\n1 3 2\n",
             ("refused", PAIR, ("few", 2)): "websolids 1 refused\n2: 0-1\nfew 2\n",
-            ("refused", samples.ring_web(4), ("parts", (0, 2), (1,))): "websolids 1 refused\n4: 0-1 0-3 1-2 2-3\nparts 0 2 / 1\n",
+            ("refused", samples.ring_web(4),
+             ("parts", (0, 2), (1,))): "websolids 1 refused\n4: 0-1 0-3 1-2 2-3\nparts 0 2 / 1\n",
             ("refused", ("web", 5, ()), ("parts", (), (0, 1, 3))): "websolids 1 refused\n5:\nparts / 0 1 3\n",
             ("refused",) + PAPERS[2]: "websolids 1 refused\n6: 0-3 0-4 0-5 1-3 1-4 1-5 2-3 2-4 2-5\nbarred wells 0 1 2 3 4 5\n"
                                       "0 3\n0 4\n0 5\n1 3\n1 4\n1 5\n2 3\n2 4\n2 5\n",
@@ -246,38 +247,66 @@ class RecordsTest(Checking):
         wells = record_text(("refused",) + PAPERS[2]).split("\n")[:-2]
         few = ["websolids 1 refused", "2: 0-1", "few 2"]
         told_lines = [
-            (0, ["websolids 1 Web"] + web[1:]), (0, ["websolids 1"] + web[1:]), (0, ["websolids 2 web"] + web[1:]), (0, [""]), (0, web[1:]),
-            (0, ["websolids 1 web "] + web[1:]), (0, ["websolids  1 web"] + web[1:]), (0, ["websolids 1 "] + web[1:]), (0, []),
+            (0, ["websolids 1 Web"] + web[1:]), (0, ["websolids 1"] + web[1:]), (0, ["websolids 2 web"] + web[1:]),
+            (0, [""]), (0, web[1:]),
+            (0, ["websolids 1 web "] + web[1:]), (0, ["websolids  1 web"] + web[1:]), (0, ["websolids 1 "] + web[1:]),
+            (0, []),
             (1, web[:1] + ["2: 1-0"]), (1, web[:1] + ["2:0-1"]), (1, web[:1] + ["2: 0-1 "]), (1, web[:1] + [" 2: 0-1"]),
-            (1, web[:1] + ["21:"]), (1, web[:1] + ["0:"]), (1, web[:1] + ["02: 0-1"]), (1, web[:1] + ["3: 1-2 0-1"]), (1, web[:1] + [""]),
-            (1, web[:1] + ["2: 0-1 0-1"]), (1, web[:1] + ["2: 0-2"]), (1, web[:1] + ["2:  0-1"]), (1, web[:1]), (2, web + [""]), (2, web * 2),
-            (1, tent[:1] + ["solid 3 4"] + tent[2:]), (1, tent[:1] + ["solid 21 4"] + tent[2:]), (1, tent[:1] + ["solid 4 3"] + tent[2:]),
-            (1, tent[:1] + ["solid 4 37"] + tent[2:]), (1, tent[:1] + ["solid 4 04"] + tent[2:]), (1, tent[:1] + ["solid 4"] + tent[2:]),
-            (1, tent[:1] + ["solid 4 4 4"] + tent[2:]), (1, tent[:1] + ["Solid 4 4"] + tent[2:]), (1, tent[:1] + ["solid -4 4"] + tent[2:]),
+            (1, web[:1] + ["21:"]), (1, web[:1] + ["0:"]), (1, web[:1] + ["02: 0-1"]), (1, web[:1] + ["3: 1-2 0-1"]),
+            (1, web[:1] + [""]),
+            (1, web[:1] + ["2: 0-1 0-1"]), (1, web[:1] + ["2: 0-2"]), (1, web[:1] + ["2:  0-1"]), (1, web[:1]),
+            (2, web + [""]), (2, web * 2),
+            (1, tent[:1] + ["solid 3 4"] + tent[2:]), (1, tent[:1] + ["solid 21 4"] + tent[2:]),
+            (1, tent[:1] + ["solid 4 3"] + tent[2:]),
+            (1, tent[:1] + ["solid 4 37"] + tent[2:]), (1, tent[:1] + ["solid 4 04"] + tent[2:]),
+            (1, tent[:1] + ["solid 4"] + tent[2:]),
+            (1, tent[:1] + ["solid 4 4 4"] + tent[2:]), (1, tent[:1] + ["Solid 4 4"] + tent[2:]),
+            (1, tent[:1] + ["solid -4 4"] + tent[2:]),
             (10, tent[:1] + ["solid 5 4"] + tent[2:]), (10, tent[:1] + ["solid 4 5"] + tent[2:]), (9, tent[:5] + tent[6:]),
-            (9, tent[:6] + tent[7:]), (10, tent + ["0 1 2"]), (2, tent[:2] + ["0 0"] + tent[3:]), (2, tent[:2] + ["0 0 0 0"] + tent[3:]),
-            (2, tent[:2] + ["0 0 00"] + tent[3:]), (2, tent[:2] + ["0 0 -0"] + tent[3:]), (2, tent[:2] + ["0 0 0/1"] + tent[3:]),
-            (2, tent[:2] + ["0 2/4 0"] + tent[3:]), (2, tent[:2] + ["1/0 0 0"] + tent[3:]), (2, tent[:2] + ["1.5 0 0"] + tent[3:]),
-            (2, tent[:2] + ["0  0 0"] + tent[3:]), (2, tent[:2] + ["0 0 0 "] + tent[3:]), (2, tent[:2] + ["1/-2 0 0"] + tent[3:]),
-            (2, tent[:2] + ["1/2/3 0 0"] + tent[3:]), (2, tent[:2] + ["+1 0 0"] + tent[3:]), (2, tent[:2] + ["1/ 0 0"] + tent[3:]),
-            (2, tent[:2] + ["--1 0 0"] + tent[3:]), (2, tent[:2] + ["- 0 0"] + tent[3:]), (2, tent[:2] + ["/2 0 0"] + tent[3:]),
+            (9, tent[:6] + tent[7:]), (10, tent + ["0 1 2"]), (2, tent[:2] + ["0 0"] + tent[3:]),
+            (2, tent[:2] + ["0 0 0 0"] + tent[3:]),
+            (2, tent[:2] + ["0 0 00"] + tent[3:]), (2, tent[:2] + ["0 0 -0"] + tent[3:]),
+            (2, tent[:2] + ["0 0 0/1"] + tent[3:]),
+            (2, tent[:2] + ["0 2/4 0"] + tent[3:]), (2, tent[:2] + ["1/0 0 0"] + tent[3:]),
+            (2, tent[:2] + ["1.5 0 0"] + tent[3:]),
+            (2, tent[:2] + ["0  0 0"] + tent[3:]), (2, tent[:2] + ["0 0 0 "] + tent[3:]),
+            (2, tent[:2] + ["1/-2 0 0"] + tent[3:]),
+            (2, tent[:2] + ["1/2/3 0 0"] + tent[3:]), (2, tent[:2] + ["+1 0 0"] + tent[3:]),
+            (2, tent[:2] + ["1/ 0 0"] + tent[3:]),
+            (2, tent[:2] + ["--1 0 0"] + tent[3:]), (2, tent[:2] + ["- 0 0"] + tent[3:]),
+            (2, tent[:2] + ["/2 0 0"] + tent[3:]),
             (6, tent[:6] + ["0 1 4"] + tent[7:]), (6, tent[:6] + ["0 1"] + tent[7:]), (6, tent[:6] + ["0 1 02"] + tent[7:]),
             (6, tent[:6] + [""] + tent[7:]), (6, tent[:6] + ["0 1 -2"] + tent[7:]), (1, tent[:6] + ["0 1 3"] + tent[7:]),
-            (1, tent[:6] + ["1 2 0"] + tent[7:]), (1, tent[:6] + ["0 0 0"] + tent[7:]), (1, tent[:6] + ["0 1 2 3"] + tent[7:]),
-            (1, tent[:2] + ["1 1 1"] + tent[3:]), (1, tent[:6] + [tent[7], tent[6]] + tent[8:]), (2, chart[:2] + [""] + chart[3:]),
-            (2, chart[:2] + ["1 2 4"] + chart[3:]), (1, chart[:2] + ["2 1 3"] + chart[3:]), (1, chart[:2] + ["1"] + chart[3:]),
-            (1, chart[:2] + ["1 1 1 1 1 1 1"] + chart[3:]), (5, chart[:5]), (6, chart + ["0"]), (1, ["websolids 1 map", "1:", "0"]),
-            (1, ["websolids 1 map", "2:", "0", "0"]), (2, few[:2] + ["few 02"]), (2, few[:2] + ["few -2"]), (2, few[:2] + ["few"]),
-            (1, few[:2] + ["few 3"]), (1, few[:2] + ["few 99999999999999999999"]), (2, few[:2] + ["few 2 2"]), (2, few[:2] + ["Few 2"]),
-            (2, few[:2]), (3, few + ["few 2"]), (1, few[:2] + ["parts / 0"]), (2, few[:2] + ["parts"]), (1, few[:2] + ["parts /"]),
-            (1, few[:2] + ["parts 0 1 0 1 / 1 1 1"]), (2, few[:2] + ["parts 0 2 / 1"]), (2, few[:2] + ["parts 0 /1"]), (2, few[:2] + ["parts / / 0"]),
-            (2, few[:2] + ["parts 0  / 1"]), (2, few[:2] + ["parts / 2"]), (2, few[:2] + ["parts / 0 "]), (2, few[:2] + ["barred five 0 1"]),
-            (2, few[:2] + ["barred six 0 1"]), (2, few[:2] + ["barred"]), (2, wells[:2] + ["barred wells 0 1 2 3 4"] + wells[3:]),
-            (2, wells[:2] + ["barred wells 0 1 2 3 4 6"] + wells[3:]), (2, wells[:2] + ["barred five 0 1 2 3 4 5"] + wells[3:]),
-            (12, wells[:2] + ["barred five 0 1 2 3 4"] + wells[3:]), (1, wells[:2] + ["barred wells 0 1 2 5 4 3"] + wells[3:]),
-            (3, wells[:3] + ["0"] + wells[4:]), (3, wells[:3] + ["0 6"] + wells[4:]), (1, wells[:3] + ["0 1 2 3"] + wells[4:]),
-            (11, wells[:11]), (12, wells + ["0 3"]), (1, ["websolids 1 refused"] + record_text(FOUR).split("\n")[1:2] + ["parts 0 1 / 2"]),
-            (2, ["websolids 1 made"] + web[1:] + ["few 2"]), (2, ["websolids 1 refused"] + web[1:] + tent[1:]), (1, ["websolids 1 made"] + web[1:] + tent[1:]),
+            (1, tent[:6] + ["1 2 0"] + tent[7:]), (1, tent[:6] + ["0 0 0"] + tent[7:]),
+            (1, tent[:6] + ["0 1 2 3"] + tent[7:]),
+            (1, tent[:2] + ["1 1 1"] + tent[3:]), (1, tent[:6] + [tent[7], tent[6]] + tent[8:]),
+            (2, chart[:2] + [""] + chart[3:]),
+            (2, chart[:2] + ["1 2 4"] + chart[3:]), (1, chart[:2] + ["2 1 3"] + chart[3:]),
+            (1, chart[:2] + ["1"] + chart[3:]),
+            (1, chart[:2] + ["1 1 1 1 1 1 1"] + chart[3:]), (5, chart[:5]), (6, chart + ["0"]),
+            (1, ["websolids 1 map", "1:", "0"]),
+            (1, ["websolids 1 map", "2:", "0", "0"]), (2, few[:2] + ["few 02"]), (2, few[:2] + ["few -2"]),
+            (2, few[:2] + ["few"]),
+            (1, few[:2] + ["few 3"]), (1, few[:2] + ["few 99999999999999999999"]), (2, few[:2] + ["few 2 2"]),
+            (2, few[:2] + ["Few 2"]),
+            (2, few[:2]), (3, few + ["few 2"]), (1, few[:2] + ["parts / 0"]), (2, few[:2] + ["parts"]),
+            (1, few[:2] + ["parts /"]),
+            (1, few[:2] + ["parts 0 1 0 1 / 1 1 1"]), (2, few[:2] + ["parts 0 2 / 1"]), (2, few[:2] + ["parts 0 /1"]),
+            (2, few[:2] + ["parts / / 0"]),
+            (2, few[:2] + ["parts 0  / 1"]), (2, few[:2] + ["parts / 2"]), (2, few[:2] + ["parts / 0 "]),
+            (2, few[:2] + ["barred five 0 1"]),
+            (2, few[:2] + ["barred six 0 1"]), (2, few[:2] + ["barred"]),
+            (2, wells[:2] + ["barred wells 0 1 2 3 4"] + wells[3:]),
+            (2, wells[:2] + ["barred wells 0 1 2 3 4 6"] + wells[3:]),
+            (2, wells[:2] + ["barred five 0 1 2 3 4 5"] + wells[3:]),
+            (12, wells[:2] + ["barred five 0 1 2 3 4"] + wells[3:]),
+            (1, wells[:2] + ["barred wells 0 1 2 5 4 3"] + wells[3:]),
+            (3, wells[:3] + ["0"] + wells[4:]), (3, wells[:3] + ["0 6"] + wells[4:]),
+            (1, wells[:3] + ["0 1 2 3"] + wells[4:]),
+            (11, wells[:11]), (12, wells + ["0 3"]),
+            (1, ["websolids 1 refused"] + record_text(FOUR).split("\n")[1:2] + ["parts 0 1 / 2"]),
+            (2, ["websolids 1 made"] + web[1:] + ["few 2"]), (2, ["websolids 1 refused"] + web[1:] + tent[1:]),
+            (1, ["websolids 1 made"] + web[1:] + tent[1:]),
         ]
         for line, lines in told_lines:
             self.refused(BadRecord, {"line": line}, parse_record, ended(lines))
@@ -287,7 +316,8 @@ class RecordsTest(Checking):
         text = record_text(PAIR)
         lines = text.split("\n")
         check = int(lines[2].split(" ")[2])
-        wrong = {0: ["", "w", "websolids 1 web"], 1: [lines[0] + "\n", lines[0] + "\n2: 0-1", lines[0] + "\n\n\n", "websolids 1 web\n2"],
+        wrong = {0: ["", "w", "websolids 1 web"], 1: [lines[0] + "\n", lines[0] + "\n2: 0-1", lines[0] + "\n\n\n",
+                                                      "websolids 1 web\n2"],
                  2: [text[:-1], text[:-3], "\n".join(lines[:2]) + "\n", text + "", text.replace("end 2", "end 3"),
                      text.replace("end 2", "end 02"), text.replace("end 2", "End 2"), text.replace("end 2", "end  2"),
                      text.replace(f" {check}\n", f" {check + 1}\n"), text.replace(f" {check}\n", f" {check + 65521}\n"),
@@ -304,7 +334,8 @@ class RecordsTest(Checking):
         for digits, right in [(61, True), (3999, True), (4000, True), (4001, False), (4400, False), (9000, False)]:
             number = 10 ** digits - 1 if digits < 4300 else 10 ** (digits - 1)
             for part in ((number, 1), (-number, 1), (1, number)):
-                solid = ("solid", PIECE[1][:3] + ((part if part != (-number, 1) else (number, 1), (0, 1), (0, 1)),), PIECE[2])
+                solid = ("solid", PIECE[1][:3] + ((part if part != (-number, 1) else (number, 1), (0, 1), (0, 1)),),
+                         PIECE[2])
                 if part == (-number, 1):
                     solid = ("solid", ((part, part, part),) + PIECE[1][1:], PIECE[2])
                 text = record_text(solid)
@@ -322,14 +353,16 @@ class RecordsTest(Checking):
 
     def test_what_is_written_is_judged(self):
         wrong = samples.junk() + samples.no_webs() + NO_SOLIDS + spoilt_charts(TENT) + [
-            ("made", FOUR, CUBE), ("refused", FOUR, ("few", 4)), ("refused", PAIR, ("few", 3)), ["web", 2, ((0, 1),)], ("few", 2)]
+            ("made", FOUR, CUBE), ("refused", FOUR, ("few", 4)), ("refused", PAIR, ("few", 3)), ["web", 2, ((0, 1),)],
+            ("few", 2)]
         for value in wrong:
             if looked_judged(value)[0] == "bad":
                 self.refused(InvalidValue, {"value": value}, record_text, value)
                 self.refused(InvalidValue, {"value": value}, record_text, value=value)
 
     def test_texts_are_looked_at(self):
-        for value in [value for value in samples.junk() if type(value) is not str] + [["websolids 1 web"], (record_text(PAIR),)]:
+        for value in [value for value in samples.junk() if type(value) is not str] + [["websolids 1 web"],
+            (record_text(PAIR),)]:
             self.refused(InvalidText, {"value": value}, parse_record, value)
             self.refused(InvalidText, {"value": value}, parse_record, text=value)
             self.refused(InvalidText, {"value": value}, check_of, value)
@@ -368,7 +401,8 @@ class JudgedTest(Checking):
 
     def test_words(self):
         self.same([judged(PAIR), judged(("refused", PAIR, ("few", 2))), judged(("refused", PAIR, ("few", 3))), judged("web"),
-                   judged(("solid", ()))], [("ok", "web"), ("ok", "refused"), ("bad", "refused"), ("bad", "value"), ("bad", "solid")])
+                   judged(("solid", ()))], [("ok", "web"), ("ok", "refused"), ("bad", "refused"), ("bad", "value"),
+                                            ("bad", "solid")])
         for word in WORDS:
             self.same(judged((word,)), ("bad", word))
             self.same(judged([word]), ("bad", "value"))

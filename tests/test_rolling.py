@@ -61,7 +61,8 @@ def slabs():
 def some_solids():
     """Solids that roll over several faces, that rest on each, that stand on an edge."""
     made = [leaning(3 + seed % 5, seed, 1 + seed % 4) for seed in range(12)]
-    return list(solidsamples.solids()) + made + slabs() + [BIG, LEAN, mirrored(LEAN), CUBE] + [mirrored(solid) for solid in slabs()]
+    return list(solidsamples.solids()) + made + slabs() + [BIG, LEAN, mirrored(LEAN),
+                                                           CUBE] + [mirrored(solid) for solid in slabs()]
 
 
 class RollingTest(Checking):
@@ -100,13 +101,15 @@ class RollingTest(Checking):
         for solid in some_solids()[::3]:
             other = moved(solid, (told((3, 0, 0)), told((0, 0, -3)), told((0, 3, 0))), told((1, 2, 3)))
             self.assertTrue(looks_like_solid(other))
-            self.same([rolls_to(other, at) for at in range(len(solid[2]))], [rolls_to(solid, at) for at in range(len(solid[2]))])
+            self.same([rolls_to(other, at) for at in range(len(solid[2]))],
+                      [rolls_to(solid, at) for at in range(len(solid[2]))])
             turned = mirrored(solid)
             places = [turned[2].index(ring[:1] + ring[:0:-1]) for ring in solid[2]]
             self.same(rest_faces(turned), sorted([places[at] for at in rest_faces(solid)]))
 
     def test_known(self):
-        self.same([rests_on(BIG, 1), rest_faces(BIG), rolls_to(BIG, 3), course(BIG, 2)], [True, [0, 1, 2, 3], None, ([2], "rest")])
+        self.same([rests_on(BIG, 1), rest_faces(BIG), rolls_to(BIG, 3), course(BIG, 2)],
+                  [True, [0, 1, 2, 3], None, ([2], "rest")])
         self.same([rests_on(LEAN, 1), rolls_to(LEAN, 1)], [False, 3])
         self.same(rests_on(position=1, solid=LEAN), False)
         self.same(rolls_to(position=1, solid=LEAN), 3)
@@ -157,7 +160,8 @@ class RefusalTest(Checking):
 
     def test_positions_are_looked_at(self):
         for call in AT_FACES:
-            for value in [v for v in samples.junk() if v not in (0, 1, 2) or isinstance(v, bool)] + [4, 6, -1, "0", (0,), [0]]:
+            for value in [v for v in samples.junk() if v not in (0, 1, 2) or isinstance(v, bool)] + [4, 6, -1, "0",
+                (0,), [0]]:
                 self.refused(InvalidPosition, {"value": value}, call, TENT, value)
                 self.refused(InvalidPosition, {"value": value}, call, position=value, solid=TENT)
             self.refused(InvalidPosition, {"value": 6}, call, CUBE, 6)

@@ -136,7 +136,8 @@ class RaisedTest(Checking):
                 rest += [from_least([one, behind, many]) for one, behind in steps_of(face)]
                 self.same(other[2], tuple(sorted(rest)))
                 self.assertEqual(len([rise for rise in rises_of(solid, other[1][many]) if rise > 0]), 1)
-                slopes = [product(whole_plane(solid, at)[:3], whole_plane(solid, position)[:3]) for at in range(len(solid[2]))]
+                slopes = [product(whole_plane(solid, at)[:3],
+                                  whole_plane(solid, position)[:3]) for at in range(len(solid[2]))]
                 tops[max(slopes[:position] + slopes[position + 1:]) > 0] += 1
         self.assertGreater(min(tops.values()), 10, tops)
 

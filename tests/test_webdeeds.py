@@ -15,7 +15,6 @@ from websolids.webdeeds import cut_corner, glued, raise_face, tie_across
 FOUR, CUBE = samples.full_web(4), samples.cube()
 NO_SOLID_WEBS = [samples.ring_web(5), samples.full_web(5), samples.wells_web(3, 3), samples.full_web(3),
                  samples.apart([FOUR, FOUR]), samples.web_with(5, [(0, 1), (1, 2), (0, 2)])]
-SIX = samples.web_with(6, list(FOUR[2]) + [(4, corner) for corner in (0, 1, 2)] + [(5, corner) for corner in (0, 1, 3)])
 CORNERS = {"what": "corners", "limit": 20}
 
 

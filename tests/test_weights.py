@@ -99,7 +99,8 @@ class WeightsTest(Checking):
             chance = random.Random(seed)
             by = told([Fraction(chance.randrange(-9, 9), 3) for _ in range(3)])
             longer = [Fraction(chance.randrange(1, 9), 2) for _ in range(3)]
-            matrix = tuple([tuple([told([part])[0] if at == row else O for at in range(3)]) for row, part in enumerate(longer)])
+            matrix = tuple([tuple([told([part])[0] if at == row else O for at in range(3)]) for row,
+                            part in enumerate(longer)])
             other = moved(solid, matrix, by)
             self.assertEqual(Fraction(*size(other)), Fraction(*size(solid)) * longer[0] * longer[1] * longer[2])
             wanted = [part * place + step for part, place, step in zip(longer, exact(middle_of(solid)), exact(by))]
@@ -158,7 +159,8 @@ class RefusalTest(Checking):
 
     def test_positions_are_looked_at(self):
         for call in AT_FACES:
-            for value in [v for v in samples.junk() if v not in (0, 1, 2) or isinstance(v, bool)] + [4, 6, -1, "0", (0,), [0]]:
+            for value in [v for v in samples.junk() if v not in (0, 1, 2) or isinstance(v, bool)] + [4, 6, -1, "0",
+                (0,), [0]]:
                 self.refused(InvalidPosition, {"value": value}, call, TENT, value)
                 self.refused(InvalidPosition, {"value": value}, call, position=value, solid=TENT)
             self.refused(InvalidPosition, {"value": 6}, call, CUBE, 6)

@@ -74,7 +74,8 @@ class OneMapTest(Checking):
     def solids_of(self, web):
         """Solids of one web, made in many ways."""
         made = solid_of(web)
-        found = [made, mirrored(made), moved(made, (EYE, ((0, 1), (1, 1), (0, 1)), ((1, 1), (0, 1), (0, 1))), EYE), enlarged(made)]
+        found = [made, mirrored(made), moved(made, (EYE, ((0, 1), (1, 1), (0, 1)), ((1, 1), (0, 1), (0, 1))), EYE),
+                 enlarged(made)]
         found += [shrunk(made, 9)]
         chart = the_map(web)
         found += [lifted_solid(chart, ring) for ring in rings_of(chart) if len(ring) == 3][:3]
@@ -123,7 +124,8 @@ class QuestionsTest(Checking):
                 self.assertIs(type(call(*ahead, value)), bool, (name, value))
 
     def test_all_questions_are_asked(self):
-        asked = {stem + "." + row.split("(")[0] for stem, rows in PARAMETERS.items() for row in rows.split() if row.endswith("value)")}
+        asked = {stem + "." + row.split("(")[0] for stem,
+                 rows in PARAMETERS.items() for row in rows.split() if row.endswith("value)")}
         asked -= {"records.judged", "records.record_text", "refusals.reason"}
         self.assertEqual(asked, set(QUESTIONS))
 
@@ -149,7 +151,8 @@ class DeskTest(Checking):
 
     def test_a_long_row(self):
         desk = Desk()
-        desk.do_all("web w 4: 0-1 0-2 0-3 1-2 1-3 2-3", "solid s w", "cut t s 0", "raise u t 0", "polar v u", "mirror m v", "trace n m",
+        desk.do_all("web w 4: 0-1 0-2 0-3 1-2 1-3 2-3", "solid s w", "cut t s 0", "raise u t 0", "polar v u",
+                    "mirror m v", "trace n m",
                     "trim o w 0", "tie r o 0 2")
         for name in desk.names():
             self.same(desk.do("judged " + name), "ok")
